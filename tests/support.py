@@ -1,0 +1,258 @@
+"""What the tests share: how refusals are checked, values of every kind, halls, and slow ways to the same results."""
+
+import functools
+import itertools
+import unittest
+
+from keptopen.errors import NotUsable
+
+SAME = ((0, 0), (1, 1))
+UNLIKE = ((0, 1), (1, 0))
+PAIR = (("a", "b"), (2, 2), ((("a",), ((0,),)), (("a", "b"), SAME), (("b",), ((1,),))))
+LINE = (("a", "b", "c"), (2, 3, 1), ((("a", "b", "c"), ((0, 2, 0), (1, 0, 0))), (("b",), ()), (("b",), ((0,), (2,)))))
+ROW = (("a", "b", "c"), (2, 2, 3), ((("a", "b"), SAME), (("b", "c"), ((0, 0), (0, 1), (1, 2)))))
+HALF = ROW[:2] + (ROW[2] + ((("a",), ((0,),)),),)
+ODD = (("a", "b", "c"), (2, 2, 2), ((("a", "b"), SAME), (("a", "c"), UNLIKE), (("b", "c"), SAME)))
+LONG = (
+    tuple("abcdef"),
+    (2,) * 6,
+    ((("a",), ((0,),)),) + tuple((two, SAME) for two in zip("abcde", "bcdef")) + ((("f",), ((1,),)),),
+)
+TRIO = (("a", "b", "c"), (2, 2, 2), ((("a", "b"), UNLIKE), (("a", "c"), UNLIKE), (("b", "c"), UNLIKE)))
+THREES = (("a", "b", "c"), (2, 2, 2), ((("a", "b", "c"), ((0, 0, 1), (0, 1, 0), (1, 0, 0))), (("b",), ((1,),))))
+ALONE = (("a",), (1,), ())
+NEVER = (("a",), (3,), ((("a",), ()),))
+SPLIT = (("a", "b"), (1, 2), ((("b",), ((0,),)), (("b",), ((1,),)), (("b",), ((0,),))))
+FREE = (("a", "b", "c"), (1, 2, 3), ())
+MANY = (("a", "b"), (10**40, 10**40), ((("a",), ((3,), (10**40 - 1,))), (("a", "b"), ((3, 5), (3, 10**39)))))
+
+HALLS = (PAIR, LINE, ROW, HALF, ODD, LONG, TRIO, THREES, ALONE, NEVER, SPLIT, FREE)
+
+
+def nested(deep):
+    """A tuple within tuples and lists, so many deep."""
+    value = ()
+    for k in range(deep - 1):
+        value = (value,) if k & 1 else [value]
+    return value
+
+
+# Values of every kind that [2] names.
+ANY = (
+    None, True, False, 0, 1, 2, 3, -1, -2, 10**59, 10**60 - 1, -(10**59),
+    "", "a", "b", "z", "A", "a b", "a\n", "abcdefgh", "abcdefghi", "-", "0", "chest a 2", "~",
+    (), [], (None,), [None], (1,), (True,), ("a",), ["a"], ("a", "b"), ["a", "b"], ("b", "a"), ("a", "a"), ("a", 1),
+    ((), ()), ((), (), ()), (("a",), ()), (("a",), (1,), []), [("a",), (1,), ()], ((("a", 0),),), (("a", 0),),
+    [("a", 0)], (["a", 0],), (("a", True),), (("a", -1),), (("a", 0), ("a", 1)), (("b", 0), ("a", 0)), (("a", 0, 0),),
+    nested(29), [nested(29)], tuple(range(5000)),
+)
+
+# Each of these has just one fault, but is a hall otherwise.
+WRONG_HALLS = (
+    list(PAIR), PAIR[:2], PAIR + ((),), ((), (), ()), (["a"], (1,), ()), (("a",), [1], ()), (("a",), (1,), []),
+    (("a", "a"), (1, 1), ()), (("b", "a"), (1, 1), ()), (("A",), (1,), ()), (("",), (1,), ()), (("abcdefghi",), (1,), ()),
+    ((1,), (1,), ()), ((["a"],), (1,), ()), (("a",), (), ()), (("a",), (1, 1), ()), (("a",), (0,), ()), (("a",), (True,), ()),
+    (("a",), (-1,), ()), (("a",), ("1",), ()), (("a",), (None,), ()), (("a",), (2,), (None,)), (("a",), (2,), ((("a",),),)),
+    (("a",), (2,), ([("a",), ()],)), (("a",), (2,), ((["a"], ()),)), (("a",), (2,), ((("a",), []),)),
+    (("a",), (2,), ((("a",), (), ()),)), (("a",), (2,), (((), ()),)), (("a",), (2,), ((("b",), ()),)),
+    (("a", "b"), (2, 2), ((("b", "a"), ()),)), (("a", "b"), (2, 2), ((("a", "a"), ()),)),
+    (tuple("abcd"), (1,) * 4, ((tuple("abcd"), ()),)), (("a",), (2,), ((("a",), ((2,),)),)), (("a",), (2,), ((("a",), ((),)),)),
+    (("a",), (2,), ((("a",), ((True,),)),)), (("a",), (2,), ((("a",), ((-1,),)),)), (("a",), (2,), ((("a",), ([0],)),)),
+    (("a",), (2,), ((("a",), (0,)),)), (("a",), (2,), ((("a",), ((0, 0),)),)), (("a",), (2,), ((("a",), ((1,), (0,))),)),
+    (("a",), (2,), ((("a",), ((0,), (0,))),)),
+)
+NO_HALLS = ANY + WRONG_HALLS
+
+
+def same(one, other):
+    """Whether two values are equal, and of the same kinds throughout, so that True is not 1."""
+    if type(one) is not type(other):
+        return False
+    if isinstance(one, (tuple, list)):
+        return len(one) == len(other) and all(same(a, b) for a, b in zip(one, other))
+    return one == other
+
+
+def copied(value):
+    """The value with new lists in the place of its lists."""
+    if isinstance(value, tuple):
+        return tuple([copied(part) for part in value])
+    if isinstance(value, list):
+        return [copied(part) for part in value]
+    return value
+
+
+VALUE = object()
+
+
+class Case(unittest.TestCase):
+    """A test with checks of kinds, refusals and parameters."""
+
+    def is_same(self, got, expected):
+        """The value has just these parts, of just these kinds."""
+        self.assertTrue(same(got, expected), f"{got!r} is not {expected!r}")
+
+    def refuses(self, error, call, *args, **named):
+        """The call raises an error of just this class, with these fields, and changes no argument."""
+        before = copied(args), {name: copied(value) for name, value in named.items()}
+        with self.assertRaises(type(error)) as caught:
+            call(*args, **named)
+        self.assertIs(type(caught.exception), type(error))
+        told, fields = vars(caught.exception), vars(error)
+        self.assertEqual(list(told), list(fields))
+        for name in fields:
+            self.assertTrue(same(told[name], fields[name]), f"{name}: {told[name]!r} is not {fields[name]!r}")
+        self.assertTrue(same(copied(args), before[0]))
+        for name in named:
+            self.assertTrue(same(named[name], before[1][name]))
+
+    def refuses_parameter(self, call, good, name, wrong, word, at=-1):
+        """Each wrong value of a parameter is refused, by place and by name, whatever the later ones are."""
+        names = list(good)
+        later = names[names.index(name) + 1 :]
+        self.assertGreater(len(wrong), 3)
+        for value in wrong:
+            told = {**good, name: value}
+            error = NotUsable(word, value if at is VALUE else at)
+            with self.subTest(name=name, value=value):
+                self.refuses(error, call, *told.values())
+                self.refuses(error, call, **told)
+                self.refuses(error, call, **{**told, **{other: None for other in later}})
+                self.refuses(error, call, **{**told, **{other: [("a", 0)] for other in later}})
+                with self.assertRaises(NotUsable) as caught:
+                    call(*told.values())
+                if at is VALUE:
+                    self.assertIs(caught.exception.at, value)
+
+
+class Draw:
+    """Numbers that look as if drawn, the same ones in each run."""
+
+    def __init__(self, seed):
+        self.state = seed * 7919 + 17
+
+    def below(self, limit):
+        """A number less than the limit."""
+        self.state = (self.state * 6364136223846793005 + 1442695040888963407) % 2**64
+        return (self.state >> 33) % limit
+
+    def some_of(self, things, percent):
+        """A tuple of some of the things, in their order."""
+        return tuple([thing for thing in things if self.below(100) < percent])
+
+
+def drawn_hall(seed, most_chests=4, most_things=3, most_seals=6):
+    """A small hall, right, but otherwise whatever comes."""
+    draw = Draw(seed)
+    chests = tuple("abcdef"[: 1 + draw.below(most_chests)])
+    sizes = tuple([1 + draw.below(most_things) for _ in chests])
+    seals = []
+    for _ in range(draw.below(most_seals + 1)):
+        lot = draw.some_of(chests, 60)[:3] or chests[:1]
+        rows = itertools.product(*[range(sizes[chests.index(chest)]) for chest in lot])
+        seals.append((lot, draw.some_of(rows, 65)))
+    return (chests, sizes, tuple(seals))
+
+
+def tight_hall(seed):
+    """A hall whose seals join two chests each, so that a keeper may be caught only by many open chests."""
+    draw = Draw(seed)
+    chests = tuple("abcde"[: 3 + draw.below(3)])
+    sizes = tuple([2 + (draw.below(4) == 0) for _ in chests])
+    ends = [((chests[0],), ((0,),)), ((chests[-1],), ((1,),))]
+    seals = [seal for seal in ends if draw.below(2)]
+    for one, other in draw.some_of(itertools.combinations(range(len(chests)), 2), 55):
+        rows = itertools.product(range(sizes[one]), range(sizes[other]))
+        kind = draw.below(3)
+        rows = [row for row in rows if (row[0] == row[1], row[0] != row[1], draw.below(3))[kind]]
+        seals.append(((chests[one], chests[other]), tuple(rows)))
+    return (chests, sizes, tuple(seals))
+
+
+DRAWN = tuple([drawn_hall(seed) for seed in range(150)])
+TIGHT = tuple([tight_hall(seed) for seed in range(60)])
+
+
+def slow_breaks(hall, filling, index):
+    """Whether the filling breaks the seal, straight from [4]."""
+    lot, rows = hall[2][index]
+    held = dict(filling)
+    return set(lot) <= set(held) and tuple([held[chest] for chest in lot]) not in rows
+
+
+@functools.lru_cache(None)
+def slow_sound(hall, filling):
+    """Whether the filling breaks no seal."""
+    return not any(slow_breaks(hall, filling, index) for index in range(len(hall[2])))
+
+
+@functools.lru_cache(None)
+def slow_fillings(hall):
+    """All fillings of the hall, ascending, sound or not."""
+    choices = [[None] + [(chest, thing) for thing in range(size)] for chest, size in zip(*hall[:2])]
+    return tuple(sorted(tuple([pair for pair in pairs if pair is not None]) for pairs in itertools.product(*choices)))
+
+
+@functools.lru_cache(None)
+def slow_parts(filling):
+    """All parts of the filling, ascending."""
+    return tuple(sorted(part for many in range(len(filling) + 1) for part in itertools.combinations(filling, many)))
+
+
+@functools.lru_cache(None)
+def slow_wholes(hall):
+    """All whole sound fillings, ascending."""
+    return tuple([one for one in slow_fillings(hall) if len(one) == len(hall[0]) and slow_sound(hall, one)])
+
+
+@functools.lru_cache(None)
+def slow_barred(hall, m):
+    """Within how many moves each sound filling of fewer than m chests is barred, straight from [31]."""
+    m = min(m, len(hall[0]))
+    sound = [one for one in slow_fillings(hall) if len(one) <= m and slow_sound(hall, one)]
+    found, fresh, steps = {}, sound, 0
+    while fresh:
+        steps += 1
+        fresh = [
+            one
+            for one in sound
+            if len(one) < m and one not in found and any(slow_bars(hall, one, chest, found) for chest in hall[0])
+        ]
+        for one in fresh:
+            found[one] = steps
+    return found
+
+
+def slow_bars(hall, filling, chest, found):
+    """Whether each thing of a chest that the filling lacks breaks a seal, or leaves a part that is found."""
+    if chest in dict(filling):
+        return False
+    for thing in range(hall[1][hall[0].index(chest)]):
+        longer = tuple(sorted(filling + ((chest, thing),)))
+        if slow_sound(hall, longer) and not any(part in found for part in slow_parts(longer)):
+            return False
+    return True
+
+
+@functools.lru_cache(None)
+def slow_family(hall, m):
+    """The greatest family, by leaving out of all sound fillings what cannot stay, straight from [5]."""
+    left = {one for one in slow_fillings(hall) if len(one) <= m and slow_sound(hall, one)}
+    while True:
+        stay = {one for one in left if slow_stays(hall, m, one, left)}
+        if stay == left:
+            return tuple(sorted(left)) or None
+        left = stay
+
+
+def slow_stays(hall, m, filling, left):
+    """Whether all parts of the filling are left, and for each chest that it lacks a filling with it."""
+    if not all(part in left for part in slow_parts(filling)):
+        return False
+    if len(filling) >= m:
+        return True
+    for chest, size in zip(*hall[:2]):
+        longer = [tuple(sorted(filling + ((chest, thing),))) for thing in range(size)]
+        if chest not in dict(filling) and not any(one in left for one in longer):
+            return False
+    return True

@@ -1,0 +1,251 @@
+"""The document's own examples, word for word, each under the number of its point."""
+
+import unittest
+
+from keptopen.errors import KeepError
+
+# The values that the examples use.
+VALUES = r"""
+    >>> SAME = ((0, 0), (1, 1))
+    >>> PAIR = (('a', 'b'), (2, 2), ((('a',), ((0,),)), (('a', 'b'), SAME), (('b',), ((1,),))))
+    >>> RING = (('a', 'b', 'c'), (('a', 'b'), ('a', 'c'), ('b', 'c')))
+"""
+
+# Each point may use what those ahead of it name.
+POINTS = (
+    (
+        11,
+        r"""
+    >>> from keptopen.kinds import is_chests, is_integer, is_name, is_number
+    >>> [is_integer(-3), is_number(True), is_name('abcdefghi'), is_chests(('a', 'b')), is_chests(('b', 'a')), is_chests(())]
+    [True, False, False, True, False, False]
+""",
+    ),
+    (
+        12,
+        r"""
+    >>> from keptopen.hallchecker import lets_hall
+    >>> LINE = (('a', 'b', 'c'), (2, 3, 1), ((('a', 'b', 'c'), ((0, 2, 0), (1, 0, 0))), (('b',), ()), (('b',), ((0,), (2,)))))
+    >>> [lets_hall(PAIR), lets_hall(LINE), lets_hall((('a',), (10 ** 40,), ()))]
+    [3, 3, 0]
+    >>> lets_hall((('a', 'b'), (2, 0), ()))
+    raises InvalidPaper(word='size', at=1)
+    >>> lets_hall((('a', 'b'), (2, 2), ((('a', 'b'), ((0, 0), (0, 2))),)))
+    raises InvalidPaper(word='row', at=(0, 1))
+""",
+    ),
+    (
+        13,
+        r"""
+    >>> from keptopen.hallparts import gates_of, seals_of, size_of
+    >>> [size_of(LINE, 'b'), seals_of(LINE, 'b'), seals_of(PAIR, 'a'), gates_of(LINE), gates_of(PAIR)]
+    [3, (0, 1, 2), (0, 1), (('a', 'b'), ('a', 'c'), ('b', 'c')), (('a', 'b'),)]
+    >>> size_of(PAIR, 'c')
+    raises NotUsable(word='chest', at='c')
+""",
+    ),
+    (
+        15,
+        r"""
+    >>> from keptopen.hallchanges import renamed, with_seal, without_seal
+    >>> [with_seal(PAIR, (('a', 'b'), ()))[2][3], without_seal(PAIR, 0)[2][0], without_seal(with_seal(LINE, (('c',), ((0,),))), 3) == LINE]
+    [(('a', 'b'), ()), (('a', 'b'), ((0, 0), (1, 1))), True]
+    >>> renamed(LINE, ('a', 'z'))
+    (('b', 'c', 'z'), (3, 1, 2), ((('b', 'c', 'z'), ((0, 0, 1), (2, 0, 0))), (('b',), ()), (('b',), ((0,), (2,)))))
+    >>> renamed(renamed(PAIR, ('a', 'b'), ('b', 'a')), ('a', 'b'), ('b', 'a')) == PAIR
+    True
+    >>> with_seal(PAIR, (('a', 'c'), ()))
+    raises NotUsable(word='seal', at=-1)
+    >>> without_seal(PAIR, True)
+    raises NotUsable(word='index', at=True)
+    >>> renamed(PAIR, ('a', 'b'))
+    raises NotUsable(word='pairs', at=-1)
+""",
+    ),
+    (
+        18,
+        r"""
+    >>> from keptopen.hallreadings import chests_read, hall_read
+    >>> from keptopen.halltexts import chests_words, hall_text
+    >>> [hall_text(PAIR), chests_words(('a', 'b')), chests_words(()), hall_read(hall_text(LINE)) == LINE, chests_read('a b'), chests_read('-')]
+    ['chest a 2\nchest b 2\nseal a 0\nseal a,b 0,0 1,1\nseal b 1', 'a b', '-', True, ('a', 'b'), ()]
+    >>> hall_read('chest a 2\nseal a\nchest b 2')
+    raises InvalidText(line=2, field=0)
+    >>> hall_read('chest a 2\nseal a 1 0')
+    raises InvalidText(line=1, field=3)
+    >>> hall_read('chest a')
+    raises InvalidText(line=0, field=2)
+    >>> chests_read('b a')
+    raises InvalidText(line=0, field=1)
+""",
+    ),
+    (
+        19,
+        r"""
+    >>> from keptopen.halls import Hall
+    >>> one = Hall(('a', 'b'), (2, 2), (('a', 'b'), ((0, 0), (1, 1))))
+    >>> [one[0], one('a'), 'a' in one, ('a', 'b') in one, len(one), list(one), str(one - 0)]
+    [(('a', 'b'), ((0, 0), (1, 1))), (0,), True, False, 1, [(('a', 'b'), ((0, 0), (1, 1)))], 'chest a 2\nchest b 2']
+    >>> far = Hall(('b', 'c'), (2, 1), (('c',), ()))
+    >>> [(one | far).hall_now, one | far == far | one, one + (('b',), ((1,),)) == one, one == Hall.of(one.hall_now)]
+    [(('a', 'b', 'c'), (2, 2, 1), ((('a', 'b'), ((0, 0), (1, 1))), (('c',), ()))), False, False, True]
+    >>> [one.called(('a', 'c')).seals_now, Hall.read('chest a 3').size('a'), (one | far).gates(), one.sizes_now]
+    [((('b', 'c'), ((0, 0), (1, 1))),), 3, (('a', 'b'),), (2, 2)]
+    >>> one | Hall(('b',), (3,))
+    raises NotUsable(word='other', at=-1)
+    >>> Hall(('a', 'b'), (2, 2), (('a',), ()), (('b', 'a'), ()))
+    raises NotUsable(word='seals', at=1)
+""",
+    ),
+    (
+        21,
+        r"""
+    >>> ROW = (('a', 'b', 'c'), (2, 2, 3), ((('a', 'b'), SAME), (('b', 'c'), ((0, 0), (0, 1), (1, 2)))))
+""",
+    ),
+    (
+        22,
+        r"""
+    >>> from keptopen.fillingchecker import lets_filling
+    >>> [lets_filling(ROW, ()), lets_filling(ROW, (('a', 1), ('c', 2))), lets_filling(PAIR, (('a', 0), ('b', 1)))]
+    [0, 2, 2]
+    >>> lets_filling(ROW, (('a', 1), ('c', 3)))
+    raises InvalidPaper(word='thing', at=1)
+    >>> lets_filling(ROW, (('c', 0), ('a', 5)))
+    raises InvalidPaper(word='order', at=1)
+""",
+    ),
+    (
+        23,
+        r"""
+    >>> from keptopen.fillings import broken_by, fitting, is_sound, parts_of
+    >>> [broken_by(PAIR, (('a', 0), ('b', 1))), broken_by(PAIR, (('a', 1), ('b', 0))), broken_by(PAIR, (('b', 0),)), broken_by(PAIR, ())]
+    [(1,), (0, 1, 2), (2,), ()]
+    >>> [is_sound(ROW, (('a', 0), ('c', 2))), is_sound(ROW, (('b', 0), ('c', 2))), fitting(ROW, (('b', 0),), 'c'), fitting(ROW, (('b', 1),), 'a')]
+    [True, False, (0, 1), (1,)]
+    >>> [fitting(PAIR, (('a', 0),), 'b'), fitting(ROW, (('b', 0), ('c', 2)), 'a'), fitting(ROW, (), 'c')]
+    [(), (), (0, 1, 2)]
+    >>> parts_of(ROW, (('a', 0), ('c', 2)))
+    ((), (('a', 0),), (('a', 0), ('c', 2)), (('c', 2),))
+    >>> fitting(ROW, (('b', 0),), 'b')
+    raises NotUsable(word='chest', at='b')
+""",
+    ),
+    (
+        25,
+        r"""
+    >>> from keptopen.wholes import held_things, many_wholes, some_whole, sure_things, whole_fillings
+    >>> HALF = ROW[:2] + (ROW[2] + ((('a',), ((0,),)),),)
+    >>> whole_fillings(HALF)
+    ((('a', 0), ('b', 0), ('c', 0)), (('a', 0), ('b', 0), ('c', 1)))
+    >>> [many_wholes(ROW), many_wholes(PAIR), whole_fillings(PAIR), some_whole(PAIR), sure_things(PAIR)]
+    [3, 0, (), None, None]
+    >>> [held_things(ROW, 'c'), held_things(HALF, 'c'), held_things(PAIR, 'a'), sure_things(ROW), sure_things(HALF)]
+    [(0, 1, 2), (0, 1), (), (), (('a', 0), ('b', 0))]
+""",
+    ),
+    (
+        27,
+        r"""
+    >>> from keptopen.handfuls import Handful, Shut
+    >>> one, far = Handful(ROW, (('a', 0), ('c', 2))), Handful.of(ROW, ('c', 2), ('b', 1))
+    >>> [one['c'], one('b'), one.lacking_now, (('c', 2),) in one, (('c', 0),) in one, len(one), list(one)[0], Shut(ROW) == Handful(ROW, ())]
+    [2, (), ('b',), True, False, 2, ('a', 0), True]
+    >>> [(one + far).broken_now, (one & far).filling_now, (one - far).filling_now, one.given('a', 1).filling_now, list(one.given('a', 1).ways())]
+    [(0,), (('c', 2),), (('a', 0),), (('a', 1), ('c', 2)), [(('a', 1), ('b', 1), ('c', 2))]]
+    >>> [one.without('c').filling_now, far.cut_to(('a', 'b')).filling_now, list(one.ways()), far.chests_now]
+    [(('a', 0),), (('b', 1),), [], ('b', 'c')]
+    >>> one + Handful(ROW, (('a', 1),))
+    raises NotUsable(word='other', at=-1)
+    >>> one['b']
+    raises NotUsable(word='chest', at='b')
+    >>> Handful.of(ROW, ('b', 0), ('c', 1), ('b', 0))
+    raises NotUsable(word='pairs', at=2)
+""",
+    ),
+    (
+        30,
+        r"""
+    >>> from keptopen.plays import grasp, moves
+    >>> ODD = (('a', 'b', 'c'), (2, 2, 2), ((('a', 'b'), SAME), (('a', 'c'), ((0, 1), (1, 0))), (('b', 'c'), SAME)))
+    >>> LONG = (tuple('abcdef'), (2,) * 6, ((('a',), ((0,),)),) + tuple([(two, SAME) for two in zip('abcde', 'bcdef')]) + ((('f',), ((1,),)),))
+    >>> [moves(PAIR, 1), moves(PAIR, 2), moves(PAIR, 3), grasp(PAIR), grasp((('a',), (1,), ()))]
+    [None, 2, 2, 2, None]
+    >>> [moves(ODD, 2), moves(ODD, 3), grasp(ODD), moves(LONG, 2), moves(LONG, 3)]
+    [None, 3, 3, 4, 3]
+    >>> moves(PAIR, 0)
+    raises NotUsable(word='m', at=0)
+""",
+    ),
+    (
+        32,
+        r"""
+    >>> from keptopen.families import family, is_family
+    >>> from keptopen.familyparts import cut_family, whole_family
+    >>> [family(PAIR, 1), family(PAIR, 2), len(family(ODD, 2)), len(family(LONG, 1))]
+    [((), (('a', 0),), (('b', 1),)), None, 13, 11]
+    >>> [is_family(PAIR, 1, ((), (('a', 0),))), is_family(ODD, 2, family(ODD, 2)), len(cut_family(ODD, 2, family(ODD, 2), 1))]
+    [False, True, 7]
+    >>> whole_family((('a', 'b'), (2, 2), ((('a', 'b'), SAME),)), 1, (('a', 1), ('b', 1)))
+    ((), (('a', 1),), (('b', 1),))
+    >>> cut_family(PAIR, 1, ((),), 1)
+    raises NotUsable(word='family', at=-1)
+""",
+    ),
+    (
+        35,
+        r"""
+    >>> from keptopen.playchecker import lets_play
+    >>> from keptopen.playpapers import play_paper
+    >>> CAUGHT = ('caught', (((('a', 0),), 'b', (None, None)), ((), 'a', (0, None))))
+    >>> [lets_play(PAIR, 2, CAUGHT), lets_play(PAIR, 1, ('kept', family(PAIR, 1))), lets_play(LONG, 2, play_paper(LONG, 2)) >= 4, play_paper(ODD, 2)[0]]
+    [2, None, True, 'kept']
+    >>> lets_play(PAIR, 2, ('caught', (((), 'a', (None, None)),)))
+    raises InvalidPaper(word='sound', at=(0, 0))
+    >>> lets_play(PAIR, 1, CAUGHT)
+    raises InvalidPaper(word='many', at=0)
+    >>> lets_play(PAIR, 1, ('kept', ((), (('a', 0),))))
+    raises InvalidPaper(word='next', at=(0, 'b'))
+""",
+    ),
+)
+
+
+def told(text):
+    """The pairs of the statements of a text, and the line that each gives, None if it gives none."""
+    lines = text.strip("\n").split("\n")
+    found = []
+    for line in lines:
+        if line.startswith("    >>> "):
+            found.append((line[8:], None))
+        else:
+            found[-1] = (found[-1][0], line[4:])
+    return found
+
+
+def given(statement, names):
+    """What a statement gives, written as the document writes it."""
+    try:
+        return repr(eval(statement, names))
+    except KeepError as error:
+        fields = ", ".join([f"{name}={value!r}" for name, value in vars(error).items()])
+        return f"raises {error.__class__.__name__}({fields})"
+
+
+class Examples(unittest.TestCase):
+    def test_examples(self):
+        names = {}
+        many = 0
+        for point, text in ((10, VALUES),) + POINTS:
+            for statement, expected in told(text):
+                with self.subTest(point=point, statement=statement):
+                    if expected is None:
+                        exec(statement, names)
+                    else:
+                        self.assertEqual(given(statement, names), expected)
+                        many += 1
+        self.assertEqual(many, 50)
+
+
+if __name__ == "__main__":
+    unittest.main()
