@@ -2,7 +2,7 @@
 
 from keptopen.fillingchecker import is_filling
 from keptopen.fillings import breaks_none, has_chest, sound_fillings, without_chest
-from keptopen.plays import barring_looks, most_open, watched_parts
+from keptopen.plays import barring_looks, most_open, soonest_part, watched_parts
 from keptopen.usable import require_hall, require_m
 
 
@@ -10,12 +10,8 @@ def family(hall, m):
     """The set of all fillings that are in any family, None if there is no family."""
     require_hall(hall)
     require_m(m)
-    most = most_open(hall, m)
-    barred = barring_looks(hall, m)
-    if () in barred:
-        return None
-    fillings = sound_fillings(hall, most)
-    return tuple([one for one in fillings if not any([part in barred for part in watched_parts(one, most)])])
+    kept = unbarred_fillings(hall, m, barring_looks(hall, m))
+    return kept if kept else None
 
 
 def is_family(hall, m, thing):
@@ -23,6 +19,13 @@ def is_family(hall, m, thing):
     require_hall(hall)
     require_m(m)
     return isinstance(thing, tuple) and family_fault(hall, m, thing) is None
+
+
+def unbarred_fillings(hall, m, looks):
+    """The greatest family, () if there is none; looks are the barring ones."""
+    most = most_open(hall, m)
+    fillings = sound_fillings(hall, most)
+    return tuple([one for one in fillings if soonest_part(looks, watched_parts(one, most)) is None])
 
 
 def family_fault(hall, m, fillings):

@@ -2,7 +2,7 @@
 
 from keptopen.errors import NotUsable
 from keptopen.families import is_family
-from keptopen.fillingchecker import require_filling
+from keptopen.fillingchecker import require_whole
 from keptopen.fillings import breaks_none, parts_up_to
 from keptopen.kinds import is_number
 from keptopen.usable import require_hall, require_m
@@ -12,8 +12,8 @@ def whole_family(hall, m, filling):
     """The family of all parts of a whole sound filling that have at most m chests."""
     require_hall(hall)
     require_m(m)
-    require_filling(hall, filling)
-    if len(filling) < len(hall[0]) or not breaks_none(hall, filling):
+    require_whole(hall, filling)
+    if not breaks_none(hall, filling):
         raise NotUsable("filling", -1)
     return parts_up_to(filling, m)
 

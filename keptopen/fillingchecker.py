@@ -48,3 +48,9 @@ def require_filling(hall, filling):
     """Refuses what is no filling of the hall."""
     if not is_filling(hall, filling):
         raise NotUsable("filling", -1)
+
+
+def require_whole(hall, filling):
+    """Refuses what is no whole filling of the hall."""
+    if not is_filling(hall, filling) or len(filling) < len(hall[0]):
+        raise NotUsable("filling", -1)

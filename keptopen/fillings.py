@@ -27,8 +27,8 @@ def fitting(hall, filling, chest):
     require_chest(hall, chest)
     if has_chest(filling, chest):
         raise NotUsable("chest", chest)
-    size = sizes_of(hall)[chest]
-    return tuple([thing for thing in range(size) if breaks_none(hall, with_pair(filling, chest, thing))])
+    answers = answers_to(hall, filling, chest)
+    return tuple([thing for thing, longer in enumerate(answers) if breaks_none(hall, longer)])
 
 
 def parts_of(hall, filling):
@@ -67,9 +67,19 @@ def with_pair(filling, chest, thing):
     return tuple(sorted(filling + ((chest, thing),)))
 
 
+def answers_to(hall, filling, chest):
+    """The filling with each thing of a chest that it lacks, in order, as a list."""
+    return [with_pair(filling, chest, thing) for thing in range(sizes_of(hall)[chest])]
+
+
 def without_chest(filling, chest):
     """The filling without the pair of the chest."""
     return tuple([pair for pair in filling if pair[0] != chest])
+
+
+def part_in(filling, lot):
+    """The pairs of the filling whose chests are in the lot."""
+    return tuple([pair for pair in filling if pair[0] in lot])
 
 
 def is_part(one, other):

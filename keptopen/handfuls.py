@@ -2,9 +2,8 @@
 
 from keptopen.errors import NotUsable
 from keptopen.fillingchecker import is_filling, require_filling
-from keptopen.fillings import agree, broken_seals, fitting, has_chest, is_part, with_pair, without_chest
-from keptopen.kinds import is_names
-from keptopen.usable import is_thing_of, require_chest, require_hall
+from keptopen.fillings import agree, broken_seals, fitting, has_chest, is_part, part_in, with_pair, without_chest
+from keptopen.usable import is_thing_of, require_chest, require_hall, require_lot
 from keptopen.wholes import wholes_with
 
 
@@ -63,9 +62,8 @@ class Handful:
 
     def cut_to(self, lot):
         """The Handful of the pairs whose chests are in the lot."""
-        if not is_names(lot) or not all([chest in self._hall[0] for chest in lot]):
-            raise NotUsable("lot", -1)
-        return Handful(self._hall, tuple([pair for pair in self._filling if pair[0] in lot]))
+        require_lot(self._hall, lot)
+        return Handful(self._hall, part_in(self._filling, lot))
 
     def ways(self):
         """The whole sound fillings of which this one is part, one by one, ascending."""

@@ -1,9 +1,8 @@
 """Papers by which an opener catches each keeper, or a keeper is never caught."""
 
 from keptopen.families import family
-from keptopen.fillings import breaks_none, with_pair
-from keptopen.hallchecker import sizes_of
-from keptopen.plays import barring_looks, most_open, watched_parts
+from keptopen.fillings import answers_to, breaks_none
+from keptopen.plays import barring_looks, most_open, soonest_part, watched_parts
 
 
 def play_paper(hall, m):
@@ -46,14 +45,8 @@ def row_for(hall, m, looks, places, filling):
 
 def barred_answers(hall, m, looks, filling):
     """For each thing of the chest to look into the part that is barred first, None if the thing breaks a seal."""
-    chest = looks[filling][1]
     answers = []
-    for thing in range(sizes_of(hall)[chest]):
-        longer = with_pair(filling, chest, thing)
-        if breaks_none(hall, longer):
-            # Where () is barred, all sound fillings of fewer than m chests are.
-            parts = watched_parts(longer, most_open(hall, m))
-            answers.append(min([(looks[part][0], part) for part in parts])[1])
-        else:
-            answers.append(None)
+    for longer in answers_to(hall, filling, looks[filling][1]):
+        parts = watched_parts(longer, most_open(hall, m))
+        answers.append(soonest_part(looks, parts) if breaks_none(hall, longer) else None)
     return answers

@@ -1,7 +1,6 @@
 """How fast an opener catches each keeper, and with how many open chests at least."""
 
-from keptopen.fillings import sound_fillings, with_pair, without_chest
-from keptopen.hallchecker import sizes_of
+from keptopen.fillings import answers_to, sound_fillings, without_chest
 from keptopen.usable import require_hall, require_m
 
 
@@ -60,15 +59,14 @@ def looks_with_answers(hall, most, fillings):
 
     The answers have, for each thing that may be told, the parts of which one has to be barred.
     """
-    sizes = sizes_of(hall)
     known = {filling: True for filling in fillings}
     looks = []
     for filling in fillings:
         held = dict(filling)
         for chest in hall[0]:
             if len(filling) < most and chest not in held:
-                told = [with_pair(filling, chest, thing) for thing in range(sizes[chest])]
-                looks.append((filling, chest, [watched_parts(longer, most) for longer in told if longer in known]))
+                told = [longer for longer in answers_to(hall, filling, chest) if longer in known]
+                looks.append((filling, chest, [watched_parts(longer, most) for longer in told]))
     return looks
 
 
@@ -80,3 +78,9 @@ def looks_that_bar(looks, found):
             if all([any([part in found for part in parts]) for parts in answers]):
                 fresh[filling] = chest
     return fresh
+
+
+def soonest_part(looks, parts):
+    """The one of these parts that is barred within the fewest moves, None if none of them is barred."""
+    barred = [(looks[part][0], part) for part in parts if part in looks]
+    return min(barred)[1] if barred else None

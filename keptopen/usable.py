@@ -2,7 +2,8 @@
 
 from keptopen.errors import NotUsable
 from keptopen.hallchecker import hall_fault, seal_fault, sizes_of
-from keptopen.kinds import is_number
+from keptopen.kinds import is_names, is_number
+from keptopen.webchecker import web_fault
 
 
 def require_hall(hall):
@@ -11,10 +12,22 @@ def require_hall(hall):
         raise NotUsable("hall", -1)
 
 
+def require_web(web):
+    """Refuses what is no web."""
+    if web_fault(web) is not None:
+        raise NotUsable("web", -1)
+
+
 def require_chest(hall, chest):
-    """Refuses what is no chest of the hall."""
+    """Refuses what is no chest of the hall, or of the web."""
     if not is_chest_of(hall, chest):
         raise NotUsable("chest", chest)
+
+
+def require_lot(hall, lot):
+    """Refuses what is no set of chests of the hall, or of the web, perhaps of none."""
+    if not is_lot_of(hall, lot):
+        raise NotUsable("lot", -1)
 
 
 def require_seal(hall, seal):
@@ -42,8 +55,13 @@ def require_text(text):
 
 
 def is_chest_of(hall, thing):
-    """Whether any value is a chest of the hall."""
+    """Whether any value is a chest of the hall, or of the web."""
     return thing in hall[0]
+
+
+def is_lot_of(hall, thing):
+    """Whether any value is a set of chests of the hall, or of the web, perhaps of none."""
+    return is_names(thing) and all([is_chest_of(hall, chest) for chest in thing])
 
 
 def is_thing_of(hall, chest, thing):

@@ -26,6 +26,13 @@ SPLIT = (("a", "b"), (1, 2), ((("b",), ((0,),)), (("b",), ((1,),)), (("b",), ((0
 FREE = (("a", "b", "c"), (1, 2, 3), ())
 MANY = (("a", "b"), (10**40, 10**40), ((("a",), ((3,), (10**40 - 1,))), (("a", "b"), ((3, 5), (3, 10**39)))))
 
+TIED = (("a", "b", "c"), (2, 2, 2), ((("a",), ((0,),)), (("a", "b"), SAME), (("b", "c"), SAME), (("c",), ((1,),))))
+EVEN, UNEVEN = ((0, 0, 0), (0, 1, 1), (1, 0, 1), (1, 1, 0)), ((0, 0, 1), (0, 1, 0), (1, 0, 0), (1, 1, 1))
+# Each chest is in two seals, so that all their sums together are even.
+SUMS = (tuple("abcdef"), (2,) * 6, ((("a", "b", "c"), EVEN), (("a", "d", "e"), EVEN), (("b", "d", "f"), EVEN), (("c", "e", "f"), UNEVEN)))
+# Its first chest is called as the word of a leaf.
+NAMED = (("broken", "z"), (2, 2), ((("broken", "z"), SAME), (("broken",), ((0,),)), (("z",), ((1,),))))
+
 HALLS = (PAIR, LINE, ROW, HALF, ODD, LONG, TRIO, THREES, ALONE, NEVER, SPLIT, FREE)
 
 
@@ -173,6 +180,25 @@ DRAWN = tuple([drawn_hall(seed) for seed in range(150)])
 TIGHT = tuple([tight_hall(seed) for seed in range(60)])
 
 
+def great_hall(seed, sizes, percent):
+    """A hall of as many chests as there are sizes, with twelve seals that have so many of the rows."""
+    draw = Draw(seed)
+    chests = tuple("abcdef"[: len(sizes)])
+    pairs = list(itertools.combinations(range(len(chests)), 2))
+    seals = []
+    for k in range(12):
+        one, other = pairs[(k * 7 + draw.below(2)) % len(pairs)]
+        rows = itertools.product(range(sizes[one]), range(sizes[other]))
+        seals.append(((chests[one], chests[other]), draw.some_of(rows, percent)))
+    return (chests, sizes, tuple(seals))
+
+
+# At most 1,600 fillings of at most three chests, and of any number of chests.
+GREAT = tuple([great_hall(seed, (4,) * 6, 45 + 5 * seed) for seed in range(5)])
+SPREADS = ((4, 4, 4, 2, 1, 1), (3, 3, 3, 3, 2, 1), (2,) * 6, (4, 4, 4, 4, 1))
+WIDE = tuple([great_hall(seed, sizes, 68 + 2 * seed) for seed in range(4) for sizes in SPREADS])
+
+
 def slow_breaks(hall, filling, index):
     """Whether the filling breaks the seal, straight from [4]."""
     lot, rows = hall[2][index]
@@ -256,3 +282,104 @@ def slow_stays(hall, m, filling, left):
         if chest not in dict(filling) and not any(one in left for one in longer):
             return False
     return True
+
+
+LOST = tuple([hall for hall in HALLS + DRAWN + (TIED, NAMED, SUMS) if not slow_wholes(hall)])
+KEPT = tuple([hall for hall in HALLS + DRAWN if slow_wholes(hall)])
+
+
+def answers(hall, filling, chest):
+    """The filling with each thing of a chest that it lacks, in order."""
+    return [tuple(sorted(filling + ((chest, thing),))) for thing in range(hall[1][hall[0].index(chest)])]
+
+
+def drawn_tree(hall, seed):
+    """A question tree of a hall that cannot be kept, right, but otherwise whatever comes."""
+    return drawn_tree_behind(hall, Draw(seed), ())
+
+
+def drawn_tree_behind(hall, draw, filling):
+    """A leaf or a question tree behind this filling; it may go on where a leaf could stand."""
+    broken = [k for k in range(len(hall[2])) if slow_breaks(hall, filling, k)]
+    left = [chest for chest in hall[0] if chest not in dict(filling)]
+    if broken and (not left or draw.below(3)):
+        return ("broken", broken[draw.below(len(broken))])
+    chest = left[draw.below(len(left))]
+    return (chest, tuple([drawn_tree_behind(hall, draw, longer) for longer in answers(hall, filling, chest)]))
+
+
+def slow_leaves(hall, tree, filling=(), way=()):
+    """The triples (way, filling, index) of the leaves of a question tree, in order."""
+    if type(tree[1]) is int:
+        return [(way, filling, tree[1])]
+    told = []
+    for thing, longer in enumerate(answers(hall, filling, tree[0])):
+        told += slow_leaves(hall, tree[1][thing], longer, way + (thing,))
+    return told
+
+
+RING = (("a", "b", "c"), (("a", "b"), ("a", "c"), ("b", "c")))
+WAY = (("a", "b", "c"), (("a", "b"), ("b", "c")))
+DOT = (("a",), ())
+DOTS = (("a", "b", "c", "d"), ())
+FOUR = (tuple("abcd"), (("a", "b"), ("a", "d"), ("b", "c"), ("c", "d")))
+STAR = (tuple("abcde"), tuple(("c", name) if "c" < name else (name, "c") for name in "abde"))
+TWO = (("a", "b", "c", "y", "z"), (("a", "b"), ("a", "c"), ("b", "c"), ("y", "z")))
+# Each two chests are joined.
+FULL = tuple([(tuple("abcde"[:many]), tuple(itertools.combinations("abcde"[:many], 2))) for many in range(2, 6)])
+# Three rows of two; seven in a ring; each of three joined with each of three; two rings that share a chest.
+LADDER = (tuple("abcdef"), (("a", "b"), ("a", "c"), ("b", "d"), ("c", "d"), ("c", "e"), ("d", "f"), ("e", "f")))
+SEVEN = (tuple("abcdefg"), (("a", "b"), ("a", "g"), ("b", "c"), ("c", "d"), ("d", "e"), ("e", "f"), ("f", "g")))
+THREE_BY_THREE = (tuple("abcdef"), tuple((one, other) for one in "abc" for other in "def"))
+EIGHT = (tuple("abcde"), (("a", "b"), ("a", "c"), ("b", "c"), ("c", "d"), ("c", "e"), ("d", "e")))
+# Twelve gates.
+WHEEL = (tuple("abcdefg"), SEVEN[1][:1] + tuple(sorted(set(SEVEN[1][1:] + (("a", "c"), ("a", "d"), ("a", "e"), ("b", "f"), ("d", "g"))))))
+
+
+def drawn_web(seed, most_chests=7, most_gates=12):
+    """A small web, right, but otherwise whatever comes."""
+    draw = Draw(seed)
+    names = "abcdefg"[: 1 + draw.below(most_chests)]
+    pairs = list(itertools.combinations(names, 2))
+    gates = draw.some_of(pairs, (20, 40, 60, 90)[draw.below(4)])
+    while len(gates) > most_gates:
+        gone = draw.below(len(gates))
+        gates = gates[:gone] + gates[gone + 1 :]
+    return (tuple(names), gates)
+
+
+DRAWN_WEBS = tuple([drawn_web(seed) for seed in range(80)])
+WEBS = (RING, WAY, DOT, DOTS, FOUR, STAR, TWO, LADDER, SEVEN, THREE_BY_THREE, EIGHT, WHEEL) + FULL + DRAWN_WEBS
+
+# Each of these has just one fault, but is a web otherwise.
+WRONG_WEBS = (
+    list(WAY), WAY[:1], WAY + ((),), (list(WAY[0]), WAY[1]), ((), ()), (("b", "a"), ()), (("a", "a"), ()), (("A",), ()), ((1,), ()),
+    ("ab", ()), (("a", None), ()), (WAY[0], list(WAY[1])), (WAY[0], None), (WAY[0], (("a",),)), (WAY[0], (("a", "b", "c"),)),
+    (WAY[0], (["a", "b"],)), (WAY[0], (("b", "a"),)), (WAY[0], (("a", "a"),)), (WAY[0], (("a", "d"),)), (WAY[0], (("a", None),)),
+    (WAY[0], ("ab",)), (WAY[0], WAY[1][::-1]), (WAY[0], WAY[1] + WAY[1][1:]), (WAY[0], (("a", "b"), ("a", "b"))),
+)
+# Not all pairs of one of the values of ANY are wrong: (("a",), ()) is a web.
+NO_WEBS = tuple([value for value in ANY if not (type(value) is tuple and value == (("a",), ()))]) + WRONG_WEBS
+
+
+def slow_hangs(web, lot):
+    """Whether these chests hang together, straight from [7]."""
+    reached = set(lot[:1])
+    for _ in lot:
+        for one, other in web[1]:
+            if one in lot and other in lot and (one in reached or other in reached):
+                reached |= {one, other}
+    return len(lot) > 0 and reached == set(lot)
+
+
+@functools.lru_cache(None)
+def slow_pieces(web, lot):
+    """The parts of the web without these chests: all that hang together and to which nothing can be added."""
+    left = [chest for chest in web[0] if chest not in lot]
+    hang = [one for many in range(1, len(left) + 1) for one in itertools.combinations(left, many) if slow_hangs(web, one)]
+    return tuple(sorted(one for one in hang if not any(set(one) < set(other) for other in hang)))
+
+
+def all_lots(chests):
+    """All sets of these chests, that of none among them."""
+    return [lot for many in range(len(chests) + 1) for lot in itertools.combinations(chests, many)]

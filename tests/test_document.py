@@ -208,6 +208,103 @@ POINTS = (
     raises InvalidPaper(word='next', at=(0, 'b'))
 """,
     ),
+    (
+        37,
+        r"""
+    >>> from keptopen.keepers import Keeper
+    >>> one, two = Keeper(ODD, 2), Keeper(LONG, 2)
+    >>> [len(one), one.moves_now, one.things_for((('a', 0),), 'b'), (('a', 0), ('c', 1)) in one, one.next_look(())]
+    [13, None, (0,), True, None]
+    >>> [two.family_now, two.moves_now, two.things_for((), 'a'), two.moves_from((('b', 1),)), two.next_look((('b', 1),))]
+    [(), 4, (), 1, (None, 'a')]
+    >>> [two.moves_from((('b', 0), ('d', 1))), two.next_look((('b', 0), ('d', 1))), two.with_m(3).moves_from((('b', 0), ('d', 1)))]
+    [3, ('b', 'c'), 1]
+    >>> (one + (('a',), ((0,),))).moves_now
+    3
+    >>> one.things_for((('a', 0),), 'a')
+    raises NotUsable(word='chest', at='a')
+""",
+    ),
+    (
+        40,
+        r"""
+    >>> from keptopen.asktrees import ask_tree, lean_tree, least_depth, least_leaves
+    >>> UNLIKE = ((0, 1), (1, 0))
+    >>> TRIO = (('a', 'b', 'c'), (2, 2, 2), ((('a', 'b'), UNLIKE), (('a', 'c'), UNLIKE), (('b', 'c'), UNLIKE)))
+    >>> TIED = (('a', 'b', 'c'), (2, 2, 2), ((('a',), ((0,),)), (('a', 'b'), SAME), (('b', 'c'), SAME), (('c',), ((1,),))))
+    >>> [(least_depth(hall), least_leaves(hall)) for hall in (PAIR, TRIO, TIED, (('a',), (3,), ((('a',), ()),)))]
+    [(2, 3), (3, 6), (2, 4), (1, 3)]
+    >>> [ask_tree(TIED)[0], least_depth((('a',), (2,), ())), ask_tree((('a',), (2,), ())), lean_tree((('a',), (1,), ((('a',), ()),)))]
+    ['b', None, None, ('a', (('broken', 0),))]
+""",
+    ),
+    (
+        41,
+        r"""
+    >>> from keptopen.askchecker import lets_tree
+    >>> LEAVES = (('broken', 2), ('broken', 1))
+    >>> [lets_tree(PAIR, ('a', (('b', LEAVES), ('broken', 0)))), lets_tree(PAIR, ('b', (('broken', 2), ('a', (('broken', 1), ('broken', 0))))))]
+    [(2, 3), (2, 3)]
+    >>> lets_tree(PAIR, ('a', (('b', LEAVES), ('broken', 1))))
+    raises InvalidPaper(word='sound', at=(1,))
+    >>> lets_tree(PAIR, ('a', (('a', LEAVES), ('broken', 0))))
+    raises InvalidPaper(word='chest', at=(0,))
+    >>> lets_tree(PAIR, ('a', (('b', LEAVES[:1]), ('broken', 0))))
+    raises InvalidPaper(word='subtrees', at=(0,))
+""",
+    ),
+    (
+        44,
+        r"""
+    >>> from keptopen.askchanges import order_tree, pruned_tree
+    >>> from keptopen.askways import leaf_for, leaves_of
+    >>> ABC, BAC = order_tree(TIED, ('a', 'b', 'c')), order_tree(TIED, ('b', 'a', 'c'))
+    >>> [lets_tree(TIED, ABC), lets_tree(TIED, BAC), BAC[1][1]]
+    [(3, 4), (3, 5), ('a', (('broken', 1), ('broken', 0)))]
+    >>> leaves_of(TIED, ABC)
+    (((('a', 0), ('b', 0), ('c', 0)), 3), ((('a', 0), ('b', 0), ('c', 1)), 2), ((('a', 0), ('b', 1)), 1), ((('a', 1),), 0))
+    >>> [leaf_for(TIED, ABC, (('a', 0), ('b', 1), ('c', 1))), pruned_tree(PAIR, ('a', (('b', LEAVES), ('b', (('broken', 2), ('broken', 0))))))]
+    [((('a', 0), ('b', 1)), 1), ('a', (('b', (('broken', 2), ('broken', 1))), ('broken', 0)))]
+    >>> leaf_for(TIED, ABC, (('a', 0), ('b', 1)))
+    raises NotUsable(word='filling', at=-1)
+""",
+    ),
+    (
+        45,
+        r"""
+    >>> from keptopen.askrows import rows_of_tree, tree_of_rows
+    >>> rows_of_tree(PAIR, ('a', (('b', LEAVES), ('broken', 0))))
+    (((('a', 0),), 'b', (None, None)), ((), 'a', (0, None)))
+    >>> AGAIN = (((('b', 0),), 'c', (None, None)), ((('b', 1),), 'a', (None, None)), ((('a', 0),), 'b', (0, None)), ((), 'b', (0, 1)))
+    >>> [lets_tree(TIED, tree_of_rows(TIED, AGAIN)), lets_tree(PAIR, tree_of_rows(PAIR, rows_of_tree(PAIR, ask_tree(PAIR))))[0]]
+    [(2, 4), 2]
+    >>> tree_of_rows(TIED, AGAIN[:3])
+    raises NotUsable(word='rows', at=-1)
+""",
+    ),
+    (
+        46,
+        r"""
+    >>> from keptopen.quests import Quest
+    >>> one = Quest(PAIR, ('a', (('b', LEAVES), ('broken', 0))))
+    >>> [one.depth_now, one.leaves_now, len(one), list(one)[2], (('a', 1),) in one, one[(0, 1)], one[()] == one.tree_now]
+    [2, 3, 3, ((('a', 1),), 0), True, ('broken', 1), True]
+    >>> [one((('a', 1), ('b', 0))), one == one.pruned(), len(one.listed()), Quest.ordered(PAIR, ('a', 'b')) == one, Quest.lean((('a',), (1,), ()))]
+    [((('a', 1),), 0), True, 2, True, None]
+""",
+    ),
+    (
+        49,
+        r"""
+    >>> from keptopen.webchecker import lets_web
+    >>> from keptopen.webparts import neighbors, parts_without, web_of
+    >>> WAY = (('a', 'b', 'c'), (('a', 'b'), ('b', 'c')))
+    >>> [lets_web(RING), neighbors(WAY, 'b'), parts_without(WAY, ('b',)), parts_without(RING, ()), web_of(PAIR)]
+    [3, ('a', 'c'), (('a',), ('c',)), (('a', 'b', 'c'),), (('a', 'b'), (('a', 'b'),))]
+    >>> lets_web((('a', 'b'), (('b', 'a'),)))
+    raises InvalidPaper(word='gate', at=0)
+""",
+    ),
 )
 
 
@@ -244,7 +341,7 @@ class Examples(unittest.TestCase):
                     else:
                         self.assertEqual(given(statement, names), expected)
                         many += 1
-        self.assertEqual(many, 50)
+        self.assertEqual(many, 72)
 
 
 if __name__ == "__main__":

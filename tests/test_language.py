@@ -44,11 +44,26 @@ INTERFACE = {
     "familyparts": {"whole_family": "hall m filling", "cut_family": "hall m family less"},
     "playpapers": {"play_paper": "hall m"},
     "playchecker": {"lets_play": "hall m thing"},
+    "keepers": {"Keeper": "hall m"},
+    "asktrees": {"least_depth": "hall", "least_leaves": "hall", "ask_tree": "hall", "lean_tree": "hall"},
+    "askchecker": {"lets_tree": "hall thing"},
+    "askways": {"leaves_of": "hall tree", "leaf_for": "hall tree filling"},
+    "askchanges": {"order_tree": "hall order", "pruned_tree": "hall tree"},
+    "askrows": {"rows_of_tree": "hall tree", "tree_of_rows": "hall rows"},
+    "quests": {"Quest": "hall tree"},
+    "webchecker": {"lets_web": "thing"},
+    "webparts": {"neighbors": "web chest", "parts_without": "web lot", "web_of": "hall"},
 }
 METHODS = {
     ("halls", "Hall"): {"size": "chest", "gates": "", "called": "*pairs", "__call__": "chest", "of": "hall", "read": "text"},
     ("handfuls", "Handful"): {
         "given": "chest thing", "without": "chest", "cut_to": "lot", "ways": "", "__call__": "chest", "of": "hall *pairs",
+    },
+    ("keepers", "Keeper"): {
+        "things_for": "filling chest", "moves_from": "filling", "next_look": "filling", "with_m": "m",
+    },
+    ("quests", "Quest"): {
+        "__call__": "filling", "pruned": "", "listed": "", "least": "hall", "lean": "hall", "ordered": "hall order",
     },
 }
 
