@@ -383,3 +383,63 @@ def slow_pieces(web, lot):
 def all_lots(chests):
     """All sets of these chests, that of none among them."""
     return [lot for many in range(len(chests) + 1) for lot in itertools.combinations(chests, many)]
+
+
+def slow_web(hall):
+    """The web of a hall."""
+    return (hall[0], tuple(sorted({(a, b) for lot, _ in hall[2] for a in lot for b in lot if a < b})))
+
+
+def shuffled(things, draw):
+    """A list of the things in a drawn order."""
+    left, order = list(things), []
+    while left:
+        order.append(left.pop(draw.below(len(left))))
+    return order
+
+
+def drawn_bags(web, seed):
+    """A tree of bags of a web, right, but otherwise whatever comes: with empty bags, equal ones, more chests than needed."""
+    draw = Draw(seed)
+    order = shuffled(web[0], draw)
+    joined = {frozenset(gate) for gate in web[1]}
+    bags, links = [], []
+    for k, chest in enumerate(order):
+        later = [other for other in order[k + 1 :] if frozenset((chest, other)) in joined]
+        joined |= {frozenset((one, other)) for one in later for other in later if one != other}
+        bags.append({chest, *later})
+        if k < len(order) - 1:
+            links.append((k, order.index(later[0]) if later else k + 1 + draw.below(len(order) - k - 1)))
+    for _ in range(draw.below(4)):
+        near = draw.below(len(bags))
+        links.append((near, len(bags)))
+        bags.append(set(draw.some_of(sorted(bags[near]), (0, 50, 100)[draw.below(3)])))
+    for _ in range(draw.below(4)):
+        one, other = links[draw.below(len(links))] if links else (0, 0)
+        bags[other] |= set(draw.some_of(sorted(bags[one]), 60))
+    places = shuffled(range(len(bags)), draw)
+    lots = tuple([tuple(sorted(bags[places.index(k)])) for k in range(len(bags))])
+    return (lots, tuple(sorted(tuple(sorted((places[one], places[other]))) for one, other in links)))
+
+
+def slow_beyond(bags, first, index):
+    """The set of the indexes of the bags beyond a bag, itself among them, straight from [57]."""
+    way = {first: (first,)}
+    for _ in bags[0]:
+        for one, other in bags[1] + tuple([link[::-1] for link in bags[1]]):
+            if one in way and other not in way:
+                way[other] = way[one] + (other,)
+    return {one for one in way if index in way[one]}
+
+
+@functools.lru_cache(None)
+def slow_sound_of(hall, lot):
+    """The sound fillings that have just these chests, ascending."""
+    return tuple([one for one in slow_fillings(hall) if tuple([chest for chest, _ in one]) == lot and slow_sound(hall, one)])
+
+
+def slow_counts(hall, bags, first, index):
+    """The pairs of counts_at, by all sound fillings of the chests of the bags beyond."""
+    chests = tuple(sorted({chest for k in slow_beyond(bags, first, index) for chest in bags[0][k]}))
+    greater = slow_sound_of(hall, chests)
+    return tuple([(one, len([other for other in greater if set(one) <= set(other)])) for one in slow_sound_of(hall, bags[0][index])])

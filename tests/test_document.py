@@ -305,6 +305,78 @@ POINTS = (
     raises InvalidPaper(word='gate', at=0)
 """,
     ),
+    (
+        51,
+        r"""
+    >>> from keptopen.bagchecker import lets_bags
+    >>> from keptopen.bags import size_of_web, tree_of_bags
+    >>> [lets_bags(WAY, ((('a', 'b'), ('b', 'c')), ((0, 1),))), size_of_web(WAY), size_of_web(RING), lets_bags(RING, tree_of_bags(RING))]
+    [2, 2, 3, 3]
+    >>> lets_bags(RING, ((('a', 'b'), ('b', 'c')), ((0, 1),)))
+    raises InvalidPaper(word='gate', at=1)
+    >>> lets_bags(WAY, ((('a', 'b'), ('c',), ('b', 'c')), ((0, 1), (1, 2))))
+    raises InvalidPaper(word='apart', at='b')
+""",
+    ),
+    (
+        54,
+        r"""
+    >>> from keptopen.thickets import thicket
+    >>> from keptopen.webpaperchecker import lets_size, lets_thicket
+    >>> from keptopen.webpapers import web_paper
+    >>> LOTS = (('a',), ('b',), ('c',))
+    >>> [lets_thicket(RING, 2, LOTS), lets_size(RING, 2, ('thicket', LOTS)), thicket(RING, 3), lets_size(WAY, 2, web_paper(WAY, 2)), web_paper(WAY, 1)[0]]
+    [3, False, None, True, 'thicket']
+    >>> lets_thicket(RING, 3, LOTS)
+    raises InvalidPaper(word='met', at=-1)
+    >>> lets_thicket(WAY, 1, (('a',), ('c',)))
+    raises InvalidPaper(word='touch', at=(0, 1))
+    >>> lets_size(RING, 2, ('bags', (('a', 'b', 'c'),), ()))
+    raises InvalidPaper(word='size', at=0)
+""",
+    ),
+    (
+        55,
+        r"""
+    >>> from keptopen.webs import Web
+    >>> one = Web.of(WAY)
+    >>> [len(one), list(one), one['b'], one(('b',)), ('a', 'b') in one, ('b', 'a') in one, one.least_size()]
+    [3, ['a', 'b', 'c'], ('a', 'c'), (('a',), ('c',)), True, False, 2]
+    >>> [(one + ('a', 'c')) == Web.of(RING), (one - ('a', 'b')).web_now, one.without('b').web_now, one.joined(('b', 'c')).web_now]
+    [True, (('a', 'b', 'c'), (('b', 'c'),)), (('a', 'c'), ()), (('a', 'b'), (('a', 'b'),))]
+    >>> (one | Web(('c', 'd'), ('c', 'd'))).web_now
+    (('a', 'b', 'c', 'd'), (('a', 'b'), ('b', 'c'), ('c', 'd')))
+    >>> one - ('a', 'c')
+    raises NotUsable(word='gate', at=-1)
+""",
+    ),
+    (
+        58,
+        r"""
+    >>> from keptopen.bybags import counts_at, dead_at, many_by, some_by
+    >>> CHESTS, SIZES = ('a', 'b', 'c', 'd'), (2, 2, 2, 2)
+    >>> ALIKE = ((('a',), ((0,),)), (('a', 'b'), SAME), (('b', 'c'), SAME), (('c', 'd'), SAME))
+    >>> FREE, ENDS = (CHESTS, SIZES, ALIKE), (CHESTS, SIZES, ALIKE + ((('d',), ((1,),)),))
+    >>> TWOS = ((('a', 'b'), ('b', 'c'), ('c', 'd')), ((0, 1), (1, 2)))
+    >>> [many_by(FREE, TWOS), some_by(FREE, TWOS), many_by(ENDS, TWOS), some_by(ENDS, TWOS)]
+    [1, (('a', 0), ('b', 0), ('c', 0), ('d', 0)), 0, None]
+    >>> [counts_at(ENDS, TWOS, 0, 1), dead_at(ENDS, TWOS, 0, 1), dead_at(ENDS, TWOS, 2, 1), dead_at(ENDS, TWOS, 0, 2)]
+    [(((('b', 0), ('c', 0)), 0), ((('b', 1), ('c', 1)), 1)), ((('b', 0), ('c', 0)),), ((('b', 1), ('c', 1)),), ()]
+    >>> many_by(ENDS, ((('a', 'b'), ('c', 'd')), ((0, 1),)))
+    raises NotUsable(word='bags', at=-1)
+""",
+    ),
+    (
+        # Without lets_dead, which has not landed.
+        59,
+        r"""
+    >>> from keptopen.deadpapers import dead_paper
+    >>> [dead_paper(ENDS, TWOS, 0)]
+    [(((('a', 0), ('b', 0)),), ((('b', 0), ('c', 0)),), ())]
+    >>> dead_paper(FREE, TWOS, 0)
+    raises NotUsable(word='hall', at=-1)
+""",
+    ),
 )
 
 
@@ -341,7 +413,7 @@ class Examples(unittest.TestCase):
                     else:
                         self.assertEqual(given(statement, names), expected)
                         many += 1
-        self.assertEqual(many, 72)
+        self.assertEqual(many, 88)
 
 
 if __name__ == "__main__":

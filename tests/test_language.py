@@ -53,6 +53,16 @@ INTERFACE = {
     "quests": {"Quest": "hall tree"},
     "webchecker": {"lets_web": "thing"},
     "webparts": {"neighbors": "web chest", "parts_without": "web lot", "web_of": "hall"},
+    "bagchecker": {"lets_bags": "web thing"},
+    "bags": {"size_of_web": "web", "tree_of_bags": "web"},
+    "thickets": {"thicket": "web m"},
+    "webpapers": {"web_paper": "web m"},
+    "webpaperchecker": {"lets_thicket": "web m thing", "lets_size": "web m thing"},
+    "webs": {"Web": "chests *gates"},
+    "bybags": {
+        "many_by": "hall bags", "some_by": "hall bags", "counts_at": "hall bags first index", "dead_at": "hall bags first index",
+    },
+    "deadpapers": {"dead_paper": "hall bags first"},
 }
 METHODS = {
     ("halls", "Hall"): {"size": "chest", "gates": "", "called": "*pairs", "__call__": "chest", "of": "hall", "read": "text"},
@@ -64,6 +74,10 @@ METHODS = {
     },
     ("quests", "Quest"): {
         "__call__": "filling", "pruned": "", "listed": "", "least": "hall", "lean": "hall", "ordered": "hall order",
+    },
+    ("webs", "Web"): {
+        "least_size": "", "tree": "", "thicket_for": "m", "paper_for": "m", "of": "web", "__call__": "lot", "without": "chest",
+        "joined": "gate",
     },
 }
 
@@ -224,6 +238,9 @@ class Statements(unittest.TestCase):
             self.assertFalse([node for node in nodes(ast.FunctionDef, function) if node is not function])
             for decorator in function.decorator_list:
                 self.assertIn(decorator.id, ("property", "classmethod", "staticmethod"))
+        for node in nodes(ast.Starred):
+            plain = node.value.value if isinstance(node.value, ast.Attribute) else node.value
+            self.assertIsInstance(plain, ast.Name)
         for node in nodes(ast.Compare):
             for sign, right in zip(node.ops, node.comparators):
                 if isinstance(sign, (ast.Is, ast.IsNot)):
