@@ -29,7 +29,11 @@ MANY = (("a", "b"), (10**40, 10**40), ((("a",), ((3,), (10**40 - 1,))), (("a", "
 TIED = (("a", "b", "c"), (2, 2, 2), ((("a",), ((0,),)), (("a", "b"), SAME), (("b", "c"), SAME), (("c",), ((1,),))))
 EVEN, UNEVEN = ((0, 0, 0), (0, 1, 1), (1, 0, 1), (1, 1, 0)), ((0, 0, 1), (0, 1, 0), (1, 0, 0), (1, 1, 1))
 # Each chest is in two seals, so that all their sums together are even.
-SUMS = (tuple("abcdef"), (2,) * 6, ((("a", "b", "c"), EVEN), (("a", "d", "e"), EVEN), (("b", "d", "f"), EVEN), (("c", "e", "f"), UNEVEN)))
+SUMS = (
+    tuple("abcdef"),
+    (2,) * 6,
+    ((("a", "b", "c"), EVEN), (("a", "d", "e"), EVEN), (("b", "d", "f"), EVEN), (("c", "e", "f"), UNEVEN)),
+)
 # Its first chest is called as the word of a leaf.
 NAMED = (("broken", "z"), (2, 2), ((("broken", "z"), SAME), (("broken",), ((0,),)), (("z",), ((1,),))))
 
@@ -333,7 +337,7 @@ SEVEN = (tuple("abcdefg"), (("a", "b"), ("a", "g"), ("b", "c"), ("c", "d"), ("d"
 THREE_BY_THREE = (tuple("abcdef"), tuple((one, other) for one in "abc" for other in "def"))
 EIGHT = (tuple("abcde"), (("a", "b"), ("a", "c"), ("b", "c"), ("c", "d"), ("c", "e"), ("d", "e")))
 # Twelve gates.
-WHEEL = (tuple("abcdefg"), SEVEN[1][:1] + tuple(sorted(set(SEVEN[1][1:] + (("a", "c"), ("a", "d"), ("a", "e"), ("b", "f"), ("d", "g"))))))
+WHEEL = (tuple("abcdefg"), tuple(sorted(SEVEN[1] + (("a", "c"), ("a", "d"), ("a", "e"), ("b", "f"), ("d", "g")))))
 
 
 def drawn_web(seed, most_chests=7, most_gates=12):
@@ -441,5 +445,5 @@ def slow_sound_of(hall, lot):
 def slow_counts(hall, bags, first, index):
     """The pairs of counts_at, by all sound fillings of the chests of the bags beyond."""
     chests = tuple(sorted({chest for k in slow_beyond(bags, first, index) for chest in bags[0][k]}))
-    greater = slow_sound_of(hall, chests)
-    return tuple([(one, len([other for other in greater if set(one) <= set(other)])) for one in slow_sound_of(hall, bags[0][index])])
+    greater, ones = slow_sound_of(hall, chests), slow_sound_of(hall, bags[0][index])
+    return tuple([(one, len([other for other in greater if set(one) <= set(other)])) for one in ones])

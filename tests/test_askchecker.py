@@ -87,10 +87,12 @@ class Wrong(TreeCase):
             self.wrong(PAIR, ("a", (("b", LEAVES), value)), "tree", (1,))
             self.wrong(PAIR, ("a", (("b", (LEAVES[0], value)), ("broken", 0))), "tree", (0, 1))
             self.wrong(PAIR, (value, None), "tree", ())
-        for value in (("broken", True), ("broken", "0"), ("broken", None), ("broken", []), ("Broken", 0), ("a", 0), (0, ()), (None, 0)):
+        wrong = (("broken", True), ("broken", "0"), ("broken", None), ("broken", []), ("Broken", 0), ("a", 0), (0, ()), (None, 0))
+        for value in wrong:
             self.wrong(PAIR, value, "tree", ())
             self.wrong_inside(value, "tree", ())
-        for value in (["broken", 3], ("a", list(LEAVES)), ("a", LEAVES, 0), ("broken",), ((), ()), (("a",), LEAVES), (["a"], LEAVES)):
+        wrong = (["broken", 3], ("a", list(LEAVES)), ("a", LEAVES, 0), ("broken",), ((), ()), (("a",), LEAVES), (["a"], LEAVES))
+        for value in wrong:
             self.wrong_inside(value, "tree", ())
 
     def test_index(self):
@@ -115,7 +117,8 @@ class Wrong(TreeCase):
         self.wrong(PAIR, ("a", (("a", LEAVES), ("broken", 0))), "chest", (0,))
         self.wrong(PAIR, ("a", (("b", (("broken", 2), ("a", LEAVES))), ("broken", 0))), "chest", (0, 1))
         # A chest may be asked on several ways, though not twice on one.
-        self.is_same(lets_tree(PAIR, ("b", (("a", (("broken", 2), ("broken", 0))), ("a", (("broken", 1), ("broken", 0)))))), (2, 4))
+        both = ("b", (("a", (("broken", 2), ("broken", 0))), ("a", (("broken", 1), ("broken", 0)))))
+        self.is_same(lets_tree(PAIR, both), (2, 4))
 
     def test_subtrees(self):
         for subtrees in ((), LEAVES[:1], LEAVES + LEAVES[:1], (None,)):

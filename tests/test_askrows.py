@@ -20,8 +20,9 @@ AGAIN = (
 # Each of these has just one fault, but is rows that catch for PAIR and m of 2 otherwise.
 WRONG_ROWS = (
     (), list(ROWS), ROWS[:1], ROWS[1:], ROWS[::-1], ROWS + ROWS[:1], (ROWS[0], list(ROWS[1])), ROWS + (None,), ("caught", ROWS),
-    (ROWS[0], ((), "a", (0, 0))), (ROWS[0], ((), "a", (None, None))), (ROWS[0], ((), "a", (False, None))), (ROWS[0], ((), "a", (0,))),
-    (ROWS[0], ((), "a", [0, None])), (ROWS[0], ((), "c", (0, None))), (ROWS[0], ((), "a", (1, None))), (ROWS[0], ((), "a", (-2, None))),
+    (ROWS[0], ((), "a", (0, 0))), (ROWS[0], ((), "a", (None, None))), (ROWS[0], ((), "a", (False, None))),
+    (ROWS[0], ((), "a", (0,))), (ROWS[0], ((), "a", [0, None])), (ROWS[0], ((), "c", (0, None))),
+    (ROWS[0], ((), "a", (1, None))), (ROWS[0], ((), "a", (-2, None))),
     (((("a", 0),), "a", (None, None)), ROWS[1]), (((("a", False),), "b", (None, None)), ROWS[1]),
     (((("a", 0), ("b", 0)), "b", (None, None)),) + ROWS[:1] + (((), "a", (1, None)),),
 )

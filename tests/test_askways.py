@@ -3,7 +3,7 @@
 import unittest
 
 from keptopen.askways import leaf_for, leaves_of
-from support import ANY, LONG, LOST, NAMED, NEVER, NO_HALLS, PAIR, SUMS, TIED, Case, drawn_tree, slow_fillings, slow_leaves
+from support import ANY, LONG, LOST, NAMED, NEVER, NO_HALLS, PAIR, SUMS, Case, drawn_tree, slow_fillings, slow_leaves
 from test_askchecker import LEAVES, TREE, WRONG_TREES
 
 NO_TREES = ANY + WRONG_TREES

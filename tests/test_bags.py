@@ -1,13 +1,14 @@
-"""[8], [51] and [56]: size_of_web, tree_of_bags."""
+"""[8], [9] (O3), [51] and [56]: size_of_web, tree_of_bags."""
 
 import functools
 import unittest
 
 from keptopen.bagchecker import lets_bags
 from keptopen.bags import size_of_web, tree_of_bags
+from keptopen.plays import grasp, moves
 from keptopen.webparts import parts_without, web_of
-from support import DOT, DOTS, DRAWN, EIGHT, FOUR, FULL, LADDER, NO_WEBS, RING, SEVEN, STAR, THREE_BY_THREE, TIGHT, TWO, WAY
-from support import WEBS, WHEEL, Case, drawn_web, slow_pieces
+from support import DOT, DOTS, DRAWN, EIGHT, FOUR, FULL, HALLS, LADDER, NO_WEBS, RING, SEVEN, STAR, THREE_BY_THREE, TIGHT, TWO, WAY
+from support import WEBS, WHEEL, Case, drawn_web, slow_pieces, slow_wholes
 
 
 @functools.lru_cache(None)
@@ -84,6 +85,15 @@ class Trees(Case):
 
 
 class Consequences(Case):
+    def test_as_many_open_chests_as_the_size_tell_which_halls_can_be_kept(self):
+        sizes = set()
+        for hall in HALLS + DRAWN + TIGHT:
+            size = size_of_web(web_of(hall))
+            self.assertEqual(moves(hall, size) is None, len(slow_wholes(hall)) > 0)
+            self.assertTrue(grasp(hall) is None or grasp(hall) <= size)
+            sizes.add((size, grasp(hall)))
+        self.assertGreater(len(sizes), 6)
+
     def test_the_greatest_size_of_a_part(self):
         for web in WEBS:
             parts = parts_without(web, ())

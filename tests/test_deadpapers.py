@@ -7,7 +7,7 @@ from keptopen.bybags import dead_at
 from keptopen.deadpapers import dead_paper
 from keptopen.errors import NotUsable
 from keptopen.webparts import web_of
-from support import DRAWN, FREE, GREAT, HALLS, LINE, LONG, NEVER, NO_HALLS, PAIR, ROW, SPLIT, SUMS, TIED, TIGHT, VALUE, ANY, Case
+from support import ANY, DRAWN, FREE, GREAT, HALLS, LINE, LONG, NEVER, NO_HALLS, PAIR, ROW, SPLIT, SUMS, TIED, TIGHT, VALUE, Case
 from support import drawn_bags, slow_counts, slow_sound_of, slow_web, slow_wholes
 from test_bybags import ENDS, LOOSE, NO_INDEXES, TWOS, trees
 
@@ -30,7 +30,8 @@ class DeadPaper(Case):
         """Whether each sound filling of the other bag that holds the same in the chests of both is in its set."""
         both = set(bags[0][index]) & set(bags[0][other])
         shared = {pair for pair in filling if pair[0] in both}
-        return all(one in paper[other] for one in slow_sound_of(hall, bags[0][other]) if {pair for pair in one if pair[0] in both} == shared)
+        ones = slow_sound_of(hall, bags[0][other])
+        return all(one in paper[other] for one in ones if {pair for pair in one if pair[0] in both} == shared)
 
     def next_bags(self, bags, first, index):
         """The bags that a link joins with this one and that do not lie on its way."""

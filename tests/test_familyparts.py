@@ -6,7 +6,7 @@ from keptopen.errors import NotUsable
 from keptopen.families import family, is_family
 from keptopen.familyparts import cut_family, whole_family
 from keptopen.halls import Hall
-from support import ALONE, ANY, DRAWN, FREE, HALF, HALLS, LONG, NO_HALLS, ODD, PAIR, ROW, TIGHT, VALUE, Case
+from support import ALONE, ANY, DRAWN, HALF, HALLS, LONG, NO_HALLS, ODD, PAIR, ROW, TIGHT, VALUE, Case
 from support import slow_fillings, slow_parts, slow_sound, slow_wholes
 from test_plays import NO_MS
 

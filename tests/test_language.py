@@ -92,7 +92,11 @@ BUILTIN_METHODS = set(
 )
 CHANGING = set("append clear extend insert pop remove reverse setdefault update add discard".split())
 AT_ONCE = set("list tuple dict sorted sum any all enumerate zip min max".split())
-BARRED_NAMES = set("register mro elements open input law version_info with_traceback add_note type id vars dir exit".split())
+BARRED_NAMES = set(
+    "register mro elements open input law version_info with_traceback add_note attrgetter breakpoint builtins compile copyright"
+    " credits delattr dir eval exec exit gc getattr globals hasattr help id importlib license locals methodcaller os quit setattr"
+    " sys type vars".split()
+)
 BARRED_WORDS = (
     r"\b(typing|typing_extensions|enum|Enum|IntEnum|StrEnum|Flag|IntFlag|Generic|Protocol|ABC|ABCMeta|namedtuple|NamedTuple"
     r"|TypedDict|TYPE_CHECKING|abstractmethod|type)\b|dataclass|overload|contextmanager|_wall|_WallAttr|\(type\)|Meta|metaclass="
