@@ -70,7 +70,7 @@ def places_fault(web, bags, links):
     for chest in chests:
         if chest not in where:
             return ("chest", chest)
-    known = [{chest: True for chest in bag} for bag in bags]
+    known = [{name: True for name in bag} for bag in bags]
     for k, (one, other) in enumerate(gates):
         if not any([one in bag and other in bag for bag in known]):
             return ("gate", k)
