@@ -59,6 +59,17 @@ def require_first(bags, first):
         raise NotUsable("first", first)
 
 
+def lost_numbers(hall, bags, first):
+    """numbers_by, for any values; refuses a hall that can be kept last."""
+    require_hall(hall)
+    require_bags(hall, bags)
+    require_first(bags, first)
+    numbers = numbers_by(hall, bags, first)
+    if any([numbers[first][filling] > 0 for filling in numbers[first]]):
+        raise NotUsable("hall", -1)
+    return numbers
+
+
 def dead_among(numbers):
     """The set of the fillings with the number 0."""
     return tuple([filling for filling in numbers if numbers[filling] == 0])

@@ -50,6 +50,11 @@ def breaks_none(hall, filling):
     return not any([breaks(held, lot, rows) for lot, rows in hall[2]])
 
 
+def state_of(hall, filling):
+    """The state of a keeper while this filling stands open: "caught" if it breaks a seal, "going" otherwise."""
+    return "going" if breaks_none(hall, filling) else "caught"
+
+
 def breaks(held, lot, rows):
     """Whether a seal is broken by what chests hold, a dict by chest."""
     if not all([chest in held for chest in lot]):

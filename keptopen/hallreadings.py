@@ -12,9 +12,14 @@ MOST_DIGITS = 60
 def hall_read(text):
     """The hall that a string writes as hall_text does."""
     require_text(text)
+    return hall_told(text.split("\n"), 0)
+
+
+def hall_told(lines, start):
+    """The hall that these lines write, the first of them having the index start."""
     sizes = {}
     seals = []
-    for line, told in enumerate(text.split("\n")):
+    for line, told in enumerate(lines, start=start):
         words = told.split(" ")
         if words[0] == "chest" and not seals:
             name, size = chest_told(sizes, line, words)

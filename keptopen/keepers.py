@@ -5,7 +5,7 @@ from keptopen.families import unbarred_fillings
 from keptopen.fillingchecker import is_filling
 from keptopen.fillings import answers_to, breaks_none, has_chest
 from keptopen.hallchanges import with_seal
-from keptopen.plays import barring_looks, most_open, soonest_part, watched_parts
+from keptopen.plays import barring_looks, look_left, moves_left
 from keptopen.usable import is_chest_of, require_hall, require_m
 
 
@@ -53,17 +53,12 @@ class Keeper:
     def moves_from(self, filling):
         """Within how many moves the filling is barred, None if it is not."""
         require_sound(self._hall, self._m, filling)
-        part = soonest_part(self._looks, watched_parts(filling, most_open(self._hall, self._m)))
-        return None if part is None else self._looks[part][0]
+        return moves_left(self._hall, self._m, self._looks, filling)
 
     def next_look(self, filling):
         """Any pair of a chest to shut or None, and a chest to look into, None where the keeper is never caught."""
         require_sound(self._hall, self._m, filling)
-        part = soonest_part(self._looks, watched_parts(filling, most_open(self._hall, self._m)))
-        if part is None:
-            return None
-        shut = [chest for chest, _ in filling if not has_chest(part, chest)]
-        return (shut[0] if shut else None, self._looks[part][1])
+        return look_left(self._hall, self._m, self._looks, filling)
 
     def with_m(self, m):
         """The Keeper of the hall for another m."""

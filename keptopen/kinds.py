@@ -30,6 +30,21 @@ def is_names(thing):
     return all([thing[k] < thing[k + 1] for k in range(len(thing) - 1)])
 
 
+def is_bits(thing, many):
+    """Whether any value is a tuple of so many integers that are 0 or 1."""
+    return isinstance(thing, tuple) and len(thing) == many and all([is_bit(bit) for bit in thing])
+
+
+def is_bit(thing):
+    """Whether any value is one of the integers 0 and 1."""
+    return is_number(thing) and thing <= 1
+
+
+def is_odd(number):
+    """Whether an integer is odd."""
+    return number & 1 == 1
+
+
 def is_pair(thing):
     """Whether any value is a tuple of two elements."""
     return isinstance(thing, tuple) and len(thing) == 2

@@ -1,6 +1,6 @@
 """How fast an opener catches each keeper, and with how many open chests at least."""
 
-from keptopen.fillings import answers_to, sound_fillings, without_chest
+from keptopen.fillings import answers_to, has_chest, sound_fillings, without_chest
 from keptopen.usable import require_hall, require_m
 
 
@@ -78,6 +78,21 @@ def looks_that_bar(looks, found):
             if all([any([part in found for part in parts]) for parts in answers]):
                 fresh[filling] = chest
     return fresh
+
+
+def moves_left(hall, m, looks, filling):
+    """Within how many moves a sound filling of at most m chests is barred, None if it is not."""
+    part = soonest_part(looks, watched_parts(filling, most_open(hall, m)))
+    return None if part is None else looks[part][0]
+
+
+def look_left(hall, m, looks, filling):
+    """A pair of a chest to shut or None, and a chest to look into, so that it is barred so soon; None if it is not."""
+    part = soonest_part(looks, watched_parts(filling, most_open(hall, m)))
+    if part is None:
+        return None
+    away = [chest for chest, _ in filling if not has_chest(part, chest)]
+    return (away[0] if away else None, looks[part][1])
 
 
 def soonest_part(looks, parts):

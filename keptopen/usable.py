@@ -2,7 +2,7 @@
 
 from keptopen.errors import NotUsable
 from keptopen.hallchecker import hall_fault, seal_fault, sizes_of
-from keptopen.kinds import is_names, is_number
+from keptopen.kinds import is_bits, is_names, is_number
 from keptopen.webchecker import web_fault
 
 
@@ -28,6 +28,18 @@ def require_lot(hall, lot):
     """Refuses what is no set of chests of the hall, or of the web, perhaps of none."""
     if not is_lot_of(hall, lot):
         raise NotUsable("lot", -1)
+
+
+def require_odds(web, odds):
+    """Refuses what is no set of chests of the web, perhaps of none."""
+    if not is_lot_of(web, odds):
+        raise NotUsable("odds", -1)
+
+
+def require_bits(web, bits):
+    """Refuses what are no bits, one for each gate of the web."""
+    if not is_bits(bits, len(web[1])):
+        raise NotUsable("bits", -1)
 
 
 def require_seal(hall, seal):

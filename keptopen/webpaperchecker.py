@@ -26,13 +26,21 @@ def lets_size(web, m, thing):
 
 def thicket_fault(web, m, lots):
     """The first fault of any value as a thicket for m, a pair (word, at); None for a thicket."""
+    fault = touching_fault(web, lots)
+    if fault is None and some_meet_all(web, m, lots):
+        return ("met", -1)
+    return fault
+
+
+def touching_fault(web, lots):
+    """The first fault of any value as a set of lots that hang together, each two of which touch."""
     if not isinstance(lots, tuple) or len(lots) == 0:
         return ("shape", -1)
     for k in range(len(lots)):
         fault = lot_fault(web, lots, k)
         if fault is not None:
             return fault
-    return ("met", -1) if some_meet_all(web, m, lots) else None
+    return None
 
 
 def lot_fault(web, lots, k):

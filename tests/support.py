@@ -447,3 +447,90 @@ def slow_counts(hall, bags, first, index):
     chests = tuple(sorted({chest for k in slow_beyond(bags, first, index) for chest in bags[0][k]}))
     greater, ones = slow_sound_of(hall, chests), slow_sound_of(hall, bags[0][index])
     return tuple([(one, len([other for other in greater if set(one) <= set(other)])) for one in ones])
+
+
+def slow_next(bags, first, index):
+    """The indexes of the next bags of a bag: those that a link joins with it and that lie beyond it, ascending."""
+    joined = {one for link in bags[1] if index in link for one in link} - {index}
+    return sorted(joined & slow_beyond(bags, first, index))
+
+
+def shared_part(bags, filling, one, other):
+    """The pairs of the filling with chests of both bags."""
+    return tuple([pair for pair in filling if pair[0] in bags[0][one] and pair[0] in bags[0][other]])
+
+
+def is_switchable(web):
+    """Whether no chest has more than four gates."""
+    return all(sum(chest in gate for gate in web[1]) <= 4 for chest in web[0])
+
+
+SWITCHED = tuple([web for web in WEBS if is_switchable(web)])
+
+
+@functools.lru_cache(None)
+def slow_all_bits(many):
+    """All tuples of so many bits, ascending."""
+    return tuple(itertools.product((0, 1), repeat=many))
+
+
+def slow_gates_at(web, chest):
+    """The gates of a chest, in order of their other chests."""
+    others = {other: gate for gate in web[1] if chest in gate for other in gate if other != chest}
+    return [others[other] for other in sorted(others)]
+
+
+def slow_setting(web, bits, chest):
+    """The setting of a chest by the bits."""
+    told = dict(zip(web[1], bits))
+    return tuple([told[gate] for gate in slow_gates_at(web, chest)])
+
+
+def slow_right(web, odds, chest):
+    """The right settings of a chest, ascending."""
+    many = len(slow_gates_at(web, chest))
+    return [one for one in slow_all_bits(many) if many == 0 or sum(one) % 2 == (chest in odds)]
+
+
+def slow_odds(web, bits):
+    """The chests whose settings by the bits have an odd sum."""
+    return tuple([chest for chest in web[0] if sum(slow_setting(web, bits, chest)) % 2])
+
+
+@functools.lru_cache(None)
+def slow_solutions(web):
+    """For each set of odd chests the bits that have it, a dict."""
+    found = {}
+    for bits in slow_all_bits(len(web[1])):
+        found.setdefault(slow_odds(web, bits), []).append(bits)
+    return found
+
+
+@functools.lru_cache(None)
+def slow_switched(web, odds):
+    """The switched hall, straight from [65]."""
+    sizes = tuple([len(slow_right(web, odds, chest)) for chest in web[0]])
+    seals = []
+    for gate in web[1]:
+        rows = []
+        for things in itertools.product(*[range(sizes[web[0].index(chest)]) for chest in gate]):
+            bits = []
+            for chest, thing in zip(gate, things):
+                bits.append(dict(zip(slow_gates_at(web, chest), slow_right(web, odds, chest)[thing]))[gate])
+            if bits[0] == bits[1]:
+                rows.append(things)
+        seals.append((gate, tuple(rows)))
+    alone = [chest for chest in odds if not slow_gates_at(web, chest)]
+    return (web[0], sizes, tuple(seals) + tuple([((chest,), ()) for chest in alone]))
+
+
+def some_odds(web, seed, many=4):
+    """Some sets of chests of the web: none, all, and drawn ones."""
+    draw = Draw(seed)
+    return sorted({(), web[0], web[0][-1:]} | {draw.some_of(web[0], (20, 50, 80)[draw.below(3)]) for _ in range(many)})
+
+
+# No bits for two gates, no sets of the chests a, b and c.
+NO_TWO_BITS = ANY + ((0,), (0, 0, 0), (0, 2), (-1, 0), (True, 0), (0, False), [0, 1], (0, None), "01", ((0, 1),))
+NO_LOTS = tuple([value for value in ANY if not (type(value) is tuple and value in ((), ("a",), ("a", "b")))])
+NO_LOTS += (("b", "a"), ("a", "a"), ("a", "d"), ["a"], ("a", 1), "a", ("ab",))

@@ -8,7 +8,7 @@ from keptopen.deadpapers import dead_paper
 from keptopen.errors import NotUsable
 from keptopen.webparts import web_of
 from support import ANY, DRAWN, FREE, GREAT, HALLS, LINE, LONG, NEVER, NO_HALLS, PAIR, ROW, SPLIT, SUMS, TIED, TIGHT, VALUE, Case
-from support import drawn_bags, slow_counts, slow_sound_of, slow_web, slow_wholes
+from support import drawn_bags, slow_counts, slow_next, slow_sound_of, slow_web, slow_wholes
 from test_bybags import ENDS, LOOSE, NO_INDEXES, TWOS, trees
 
 LOST = tuple([hall for hall in HALLS + (TIED,) + DRAWN + TIGHT if not slow_wholes(hall) and hall != LONG])
@@ -22,7 +22,7 @@ class DeadPaper(Case):
             self.is_same(fillings, tuple(sorted(set(fillings))))
             for one in fillings:
                 self.assertIn(one, slow_sound_of(hall, bags[0][index]))
-                after = self.next_bags(bags, first, index)
+                after = slow_next(bags, first, index)
                 self.assertTrue(any(self.all_in(hall, bags, index, other, one, paper) for other in after))
         self.assertEqual(paper[first], slow_sound_of(hall, bags[0][first]))
 
@@ -32,16 +32,6 @@ class DeadPaper(Case):
         shared = {pair for pair in filling if pair[0] in both}
         ones = slow_sound_of(hall, bags[0][other])
         return all(one in paper[other] for one in ones if {pair for pair in one if pair[0] in both} == shared)
-
-    def next_bags(self, bags, first, index):
-        """The bags that a link joins with this one and that do not lie on its way."""
-        ways = {first: (first,)}
-        for _ in bags[0]:
-            for link in bags[1] + tuple([link[::-1] for link in bags[1]]):
-                if link[0] in ways and link[1] not in ways:
-                    ways[link[1]] = ways[link[0]] + link[1:]
-        joined = [one for link in bags[1] for one in link if index in link and one != index]
-        return [one for one in joined if one not in ways[index]]
 
     def test_each_first_bag(self):
         for hall in LOST:

@@ -367,14 +367,100 @@ POINTS = (
 """,
     ),
     (
-        # Without lets_dead, which has not landed.
         59,
         r"""
+    >>> from keptopen.deadchecker import lets_dead
     >>> from keptopen.deadpapers import dead_paper
-    >>> [dead_paper(ENDS, TWOS, 0)]
-    [(((('a', 0), ('b', 0)),), ((('b', 0), ('c', 0)),), ())]
+    >>> ZEROS = (((('a', 0), ('b', 0)),), ((('b', 0), ('c', 0)),), ())
+    >>> [dead_paper(ENDS, TWOS, 0), lets_dead(ENDS, TWOS, 0, ZEROS), lets_dead(ENDS, TWOS, 2, dead_paper(ENDS, TWOS, 2))]
+    [(((('a', 0), ('b', 0)),), ((('b', 0), ('c', 0)),), ()), 2, 2]
+    >>> lets_dead(FREE, TWOS, 0, ZEROS)
+    raises InvalidPaper(word='next', at=(1, 0))
     >>> dead_paper(FREE, TWOS, 0)
     raises NotUsable(word='hall', at=-1)
+""",
+    ),
+    (
+        62,
+        r"""
+    >>> from keptopen.families import family
+    >>> from keptopen.gluing import kept_by, moves_by
+    >>> from keptopen.walkers import Walker
+    >>> [kept_by(FREE, TWOS, family(FREE, 2)), moves_by(ENDS, TWOS, 0), moves_by(FREE, TWOS, 1)]
+    [(('a', 0), ('b', 0), ('c', 0), ('d', 0)), 4, 3]
+    >>> walker = Walker(ENDS, TWOS, 1)
+    >>> [walker.wanted(), walker.look(0), walker.wanted(), walker.look(0), walker.wanted(), walker.bag_now]
+    [((), 'b'), 'going', ((), 'c'), 'going', (('b',), 'd'), 1]
+    >>> [walker.look(0), walker.filling_now, walker.bag_now, walker.wanted(), len(walker)]
+    ['caught', (('c', 0), ('d', 0)), 2, None, 3]
+    >>> [walker.undo(), walker.filling_now, walker.looks_now, walker.state()]
+    [('d', 0), (('b', 0), ('c', 0)), (('b', 0), ('c', 0)), 'going']
+    >>> walker.look(2)
+    raises NotUsable(word='thing', at=2)
+    >>> kept_by(ENDS, TWOS, family(ENDS, 1))
+    raises NotUsable(word='family', at=-1)
+""",
+    ),
+    (
+        64,
+        r"""
+    >>> WAY = (('a', 'b', 'c'), (('a', 'b'), ('b', 'c')))
+""",
+    ),
+    (
+        65,
+        r"""
+    >>> from keptopen.switched import setting_of, switched_hall, thing_of
+    >>> switched_hall(RING, ('a',))
+    (('a', 'b', 'c'), (2, 2, 2), ((('a', 'b'), ((0, 0), (1, 1))), (('a', 'c'), ((0, 1), (1, 0))), (('b', 'c'), ((0, 0), (1, 1)))))
+    >>> [setting_of(RING, ('a',), 'a', 0), thing_of(RING, (), 'a', (1, 1)), switched_hall(WAY, ('a',))[1], switched_hall((('z',), ()), ('z',))]
+    [(0, 1), 1, (1, 2, 1), (('z',), (1,), ((('z',), ()),))]
+    >>> thing_of(RING, (), 'a', (0, 1))
+    raises NotUsable(word='bits', at=-1)
+""",
+    ),
+    (
+        66,
+        r"""
+    >>> from keptopen.oddparts import least_switched, odd_parts
+    >>> TWO = (('a', 'b', 'c', 'y', 'z'), (('a', 'b'), ('a', 'c'), ('b', 'c'), ('y', 'z')))
+    >>> [odd_parts(TWO, ('a', 'b', 'z')), odd_parts(TWO, ('a', 'y')), least_switched(TWO, ('a', 'y')), least_switched(TWO, ('a',)), least_switched(RING, ('a', 'b'))]
+    [(('y', 'z'),), (('a', 'b', 'c'), ('y', 'z')), 2, 3, None]
+""",
+    ),
+    (
+        68,
+        r"""
+    >>> from keptopen.settings import bits_by, filling_by, many_settings, odds_of, some_settings, turned_along
+    >>> [odds_of(RING, (1, 0, 0)), turned_along(RING, (1, 0, 0), ('a', 'c', 'b')), turned_along(RING, (1, 0, 0), ('b', 'c', 'b')), many_settings(RING, ('a', 'b')), some_settings(RING, ('a',))]
+    [('a', 'b'), (1, 1, 1), (1, 0, 0), 2, None]
+    >>> [some_settings(WAY, ('a', 'c')), filling_by(WAY, (1, 1)), bits_by(WAY, ('a', 'c'), (('b', 1),)), bits_by(RING, ('a',), (('a', 0),))]
+    [(1, 1), (('a', 0), ('b', 1), ('c', 0)), (1, 1), (0, 1, None)]
+""",
+    ),
+    (
+        70,
+        r"""
+    >>> from keptopen.settingchecker import lets_settings
+    >>> [lets_settings(RING, ('a', 'b'), ('set', (1, 0, 0))), lets_settings(RING, ('a',), ('sum', ('a', 'b', 'c')))]
+    [True, False]
+    >>> lets_settings(RING, ('a', 'b'), ('set', (1, 1, 0)))
+    raises InvalidPaper(word='chest', at='a')
+    >>> lets_settings(RING, ('a', 'b'), ('sum', ('a', 'b', 'c')))
+    raises InvalidPaper(word='even', at=-1)
+""",
+    ),
+    (
+        71,
+        r"""
+    >>> from keptopen.hiding import hide, switched_family
+    >>> ALONE = (('a',), ('b',), ('c',))
+    >>> [hide(RING, ALONE, ('a',)), hide(RING, ALONE, ()), len(switched_family(RING, 'a', 2, ALONE)), switched_family(RING, 'a', 1, ALONE)]
+    [('b', 'c'), ('a', 'b', 'c'), 13, ((), (('a', 0),), (('a', 1),), (('b', 0),), (('b', 1),), (('c', 0),), (('c', 1),))]
+    >>> [switched_family(WAY, 'a', 1, (('a',), ('b',))), switched_family(WAY, 'a', 1, (('b',), ('c',)))]
+    [((), (('a', 0),), (('b', 0),), (('c', 0),)), ((), (('a', 0),), (('b', 1),), (('c', 0),))]
+    >>> hide(WAY, (('b',), ('c',)), ('b', 'c'))
+    raises NotUsable(word='lot', at=-1)
 """,
     ),
 )
@@ -413,7 +499,7 @@ class Examples(unittest.TestCase):
                     else:
                         self.assertEqual(given(statement, names), expected)
                         many += 1
-        self.assertEqual(many, 88)
+        self.assertEqual(many, 107)
 
 
 if __name__ == "__main__":

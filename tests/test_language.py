@@ -63,6 +63,18 @@ INTERFACE = {
         "many_by": "hall bags", "some_by": "hall bags", "counts_at": "hall bags first index", "dead_at": "hall bags first index",
     },
     "deadpapers": {"dead_paper": "hall bags first"},
+    "deadchecker": {"lets_dead": "hall bags first thing"},
+    "gluing": {"kept_by": "hall bags family", "moves_by": "hall bags first"},
+    "walkers": {"Walker": "hall bags first"},
+    "switched": {"switched_hall": "web odds", "setting_of": "web odds chest thing", "thing_of": "web odds chest bits"},
+    "oddparts": {"odd_parts": "web odds", "least_switched": "web odds"},
+    "settings": {
+        "odds_of": "web bits", "turned_along": "web bits way", "some_settings": "web odds", "many_settings": "web odds",
+        "filling_by": "web bits", "bits_by": "web odds filling",
+    },
+    "settingpapers": {"settings_paper": "web odds"},
+    "settingchecker": {"lets_settings": "web odds thing"},
+    "hiding": {"hide": "web lots lot", "switched_family": "web odd m lots"},
 }
 METHODS = {
     ("halls", "Hall"): {"size": "chest", "gates": "", "called": "*pairs", "__call__": "chest", "of": "hall", "read": "text"},
@@ -79,7 +91,10 @@ METHODS = {
         "least_size": "", "tree": "", "thicket_for": "m", "paper_for": "m", "of": "web", "__call__": "lot", "without": "chest",
         "joined": "gate",
     },
+    ("walkers", "Walker"): {"state": "", "wanted": "", "look": "thing", "undo": ""},
 }
+# The methods that change their object, by class; all others change nothing.
+CHANGERS = {"Walker": ("look", "undo")}
 
 ALLOWED = set(
     "len range enumerate zip min max sum abs sorted reversed int str bool list tuple dict set isinstance ord repr any all"
@@ -265,7 +280,9 @@ class Statements(unittest.TestCase):
                 self.assertIsInstance(node.func, ast.Name)
                 words = [keyword.arg for keyword in node.keywords]
                 if node.func.id in ALLOWED:
-                    self.assertTrue(words == [] or (words == ["default"] and len(node.args) == 1), node.func.id)
+                    told = (node.func.id, words)
+                    fine = told == ("enumerate", ["start"]) or (words == ["default"] and len(node.args) == 1)
+                    self.assertTrue(words == [] or fine, node.func.id)
 
     def test_ranges_and_sets_are_used_at_once(self):
         right = [node.iter for node in nodes((ast.For, ast.comprehension))]
@@ -275,6 +292,10 @@ class Statements(unittest.TestCase):
                 right += call.args if call.func.id == "zip" else call.args[:1]
             if isinstance(call.func, ast.Name) and call.func.id in ("sorted", "len"):
                 members += call.args
+        # Sets may be joined where they are used.
+        for node in members:
+            if isinstance(node, ast.BinOp):
+                members += [node.left, node.right]
         for call in nodes(ast.Call):
             if isinstance(call.func, ast.Name):
                 if call.func.id in ("range", "zip", "enumerate", "reversed"):
@@ -288,9 +309,30 @@ class Statements(unittest.TestCase):
 
 
 class Changes(unittest.TestCase):
-    """No function changes what it did not create, so that each may stand in an operator or a property."""
+    """Only what CHANGERS names changes anything that it did not create, and no operator and no property calls it."""
+
+    def test_operators_and_properties_call_no_changers(self):
+        called = {}
+        for function in functions():
+            names = [call.func.id if isinstance(call.func, ast.Name) else call.func.attr for call in nodes(ast.Call, function)]
+            called.setdefault(function.name, set()).update(names)
+        operators = [one.name for one in functions() if one.name in SPECIAL and one.name not in ("__init__", "__call__")]
+        waiting = operators + [one.name for one in functions() if [mark for mark in one.decorator_list if mark.id == "property"]]
+        reached = set()
+        while waiting:
+            name = waiting.pop()
+            if name not in reached:
+                reached.add(name)
+                waiting += called.get(name, ())
+        self.assertEqual(reached & {name for names in CHANGERS.values() for name in names}, set())
 
     def test_only_own_lists_and_dicts_change(self):
+        changers = [
+            node
+            for made in nodes(ast.ClassDef)
+            for node in made.body
+            if isinstance(node, ast.FunctionDef) and node.name in CHANGERS.get(made.name, ())
+        ]
         for function in functions():
             made = targets(function)
             changed = [node.func.value for node in nodes(ast.Call, function) if self.changes(node)]
@@ -298,7 +340,7 @@ class Changes(unittest.TestCase):
                 places = node.targets if isinstance(node, ast.Assign) else [node.target]
                 changed += [place.value for place in places if isinstance(place, ast.Subscript)]
                 attributes = [place for place in places if isinstance(place, ast.Attribute)]
-                self.assertTrue(not attributes or function.name == "__init__", function.name)
+                self.assertTrue(not attributes or function.name == "__init__" or function in changers, function.name)
                 if isinstance(node, ast.AugAssign):
                     self.assertIsInstance(node.value, ast.Constant)
             for node in changed:
