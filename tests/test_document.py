@@ -463,6 +463,78 @@ POINTS = (
     raises NotUsable(word='lot', at=-1)
 """,
     ),
+    (
+        72,
+        r"""
+    >>> from keptopen.switches import Switches
+    >>> one = Switches(RING, ('a',))
+    >>> [one['a'], one((1, 0, 0)), 'a' in one, list(one + 'b'), one.moved(('a', 'c')).odds_now, one.moved(('a', 'b', 'a')) == one, one.least_m(), (one + 'a').many_bits()]
+    [((0, 1), (1, 0)), ('b',), True, ['a', 'b'], ('c',), True, 3, 2]
+    >>> [one.solved(), one.judged(one.paper()), len(one.kept_for(1, ALONE))]
+    [None, False, 7]
+    >>> (one + 'b').kept_for(1, ALONE)
+    raises NotUsable(word='odds', at=-1)
+""",
+    ),
+    (
+        78,
+        r"""
+    >>> from keptopen.games import Game
+    >>> CHAIN = (('a', 'b', 'c', 'd'), (2,) * 4, ((('a',), ((0,),)), (('a', 'b'), SAME), (('b', 'c'), SAME), (('c', 'd'), SAME), (('d',), ((1,),))))
+    >>> game = Game(CHAIN, 2)
+    >>> [game.left_now, game.look('b', 0), game.left_now, game.advice(), game.things_now('c'), game.look('c', 0), game.left_now, game.advice()]
+    [3, 'going', 2, (None, 'c'), (), 'going', 1, ('b', 'd')]
+    >>> [game.barred(('look', 'd', 1)), game.shut('b'), game.look('d', 1), game.filling_now, game.broken_now, game.left_now, game.advice(), game.moves_now]
+    ['many', 'going', 'caught', (('c', 0), ('d', 1)), (3,), 0, None, 3]
+    >>> one = Game(PAIR, 1)
+    >>> [one.left_now, one.advice(), one.things_now('a'), one.things_now('b'), one.tried(('look', 'a', 1))]
+    [None, None, (0,), (1,), ((('a', 1),), 0, 'caught')]
+""",
+    ),
+    (
+        80,
+        r"""
+    >>> [game.undo(), game.state(), len(game), ('shut', 'b') in game, game.tally(), game.log()[2:], game == Game(CHAIN, 2)]
+    [('look', 'd', 1), 'going', 3, True, (5, 5), (('look', 'c', 0), ('shut', 'b')), False]
+    >>> game.look('d', 2)
+    raises InvalidEvent(event=('look', 'd', 2), reason='thing')
+""",
+    ),
+    (
+        82,
+        r"""
+    >>> from keptopen.guarded import Sure
+    >>> sure = Sure(PAIR, 1)
+    >>> [sure.look('a', 0), sure.shut('a'), sure.barred(('look', 'b', 0)), sure.look('b', 1), sure.left_now]
+    ['going', 'going', 'lost', 'going', None]
+    >>> Sure(PAIR, 1).look('a', 1)
+    raises Barred(event=('look', 'a', 1), things=(0,))
+    >>> Sure(PAIR, 2)
+    raises NotUsable(word='m', at=2)
+""",
+    ),
+    (
+        87,
+        r"""
+    >>> from keptopen.eventreadings import read_event, read_log
+    >>> from keptopen.eventtexts import event_line, log_lines
+    >>> from keptopen.replaying import replayed
+    >>> [event_line(('look', 'a', 0)), read_event('shut b'), log_lines(game.log())[-3:], read_log(log_lines(sure.log())) == sure.log(), replayed(game.log()) == game]
+    ['look a 0', ('shut', 'b'), ['look b 0', 'look c 0', 'shut b'], True, True]
+    >>> read_event('look a')
+    raises InvalidText(line=0, field=2)
+""",
+    ),
+    (
+        89,
+        r"""
+    >>> from keptopen.desk import Desk
+    >>> desk = Desk()
+    >>> rows = ('\n'.join(log_lines((('game', CHAIN, 2),))), 'look b 0', 'advice', 'things c', 'look c 0', 'advice', 'filling', 'bars look d 0', 'left', 'undo')
+    >>> [[desk.say(row) for row in rows], desk.counts()]
+    [['ok', 'going', '- c', '-', 'going', 'b d', 'b:0 c:0', 'many', '1', 'look c 0'], (10, 10)]
+""",
+    ),
 )
 
 
@@ -499,7 +571,7 @@ class Examples(unittest.TestCase):
                     else:
                         self.assertEqual(given(statement, names), expected)
                         many += 1
-        self.assertEqual(many, 107)
+        self.assertEqual(many, 121)
 
 
 if __name__ == "__main__":
