@@ -42,7 +42,7 @@ def is_bit(thing):
 
 def is_odd(number):
     """Whether an integer is odd."""
-    return number & 1 == 1
+    return (number & 1) == 1
 
 
 def is_pair(thing):

@@ -2,8 +2,7 @@
 
 import functools
 
-from support import ANY, DRAWN, FREE, HALF, NEVER, ODD, PAIR, ROW, SAME, SPLIT, TIED, TIGHT, TRIO, Draw, slow_fillings, slow_parts
-from support import slow_sound
+from support import ANY, DRAWN, FREE, HALF, NEVER, ODD, PAIR, ROW, SAME, SPLIT, TIED, TIGHT, TRIO, slow_fillings, slow_parts, slow_sound
 
 CHAIN = (
     ("a", "b", "c", "d"),

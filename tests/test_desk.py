@@ -29,8 +29,8 @@ def with_game(hall, m, *rows):
 NO_ROWS = (
     "", " ", "\n", "undo ", " undo", "undo 1", "undo\n", "Undo", "redo", "look", "look a", "look a -1", "look a 00", "look a 0 ",
     "look A 0", "look a 0 0", "look  a 0", "shut", "shut a b", "shut a ", "shut A", "bars", "bars ", "bars look", "bars undo", "bars a",
-    "bars look a", "bars  look a 0", "bars bars look a 0", "bars look a 0\n", "bars advice", "things", "things ", "things A",
-    "things a b", "things  a", "things a ", "things abcdefghi", "things 0", "advice a", "advice ", "filling ", "broken 0", "left left",
+    "thing a", "x a", "bars look a", "bars  look a 0", "bars bars look a 0", "bars look a 0\n", "bar look a 0",
+    "x look a 0", "bars advice", "things", "things ", "things A", "things a b", "things  a", "things a ", "things abcdefghi", "things 0", "advice a", "advice ", "filling ", "broken 0", "left left",
     "moves ", "states", "state ", "events 1", "log 1", "log\n", "tally", "counts", "game", "game 1 1", "game 1 1\n", "game 5 2",
     "game 1 0\nchest a 1", "game 1 1\nchest a 0", "game 1 1\nchest a 1\n", "game 2 1\nchest a 1", "game 1 1\nchest a 1\nchest b 1",
     "game 1 1\nchest a 1\nlook a 0", "game 1 1\nchest a 1\nshut a", " game 1 1\nchest a 1", "game 1 1 \nchest a 1", "chest a 1",
@@ -97,7 +97,8 @@ class Saying(Case):
         self.assertIn(told[0], ["- b", "- c"])
         self.is_same(told[1:8], ["-", "-", "3", "0", "going", "0", "-"])
         self.is_same(told[8:], ["-", "shut", "-"])
-        self.is_same([desk.say(row=row) for row in ("look b 0", "look c 0", "advice", "shut b", "look d 1")], ["going", "going", "b d", "going", "caught"])
+        rows = ("look b 0", "look c 0", "advice", "shut b", "look d 1")
+        self.is_same([desk.say(row=row) for row in rows], ["going", "going", "b d", "going", "caught"])
         told = [desk.say(row) for row in ASKED]
         self.is_same(told, ["-", "c:0 d:1", "3", "0", "3", "caught", "4", "look b 0 / look c 0 / shut b / look d 1"])
         self.is_same([desk.say("undo"), desk.say("events"), desk.say("undo"), desk.say("filling")], ["look d 1", "3", "shut b", "b:0 c:0"])
@@ -153,7 +154,8 @@ class Refusing(Case):
                     self.is_same(desk.counts(), (before + many, before + many))
 
     def test_values_of_other_kinds(self):
-        values = [value for value in ANY if not isinstance(value, str)] + [["undo"], ("state",), ("look", "a", 0), b"undo", 0, Game(PAIR, 1)]
+        values = [value for value in ANY if not isinstance(value, str)]
+        values += [["undo"], ("state",), ("look", "a", 0), b"undo", 0, Game(PAIR, 1)]
         for desk in (Desk(), with_game(PAIR, 2)):
             for value in values:
                 with self.assertRaises(InvalidRow) as caught:

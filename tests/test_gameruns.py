@@ -43,7 +43,8 @@ class Through(Case):
             self.is_same(game.tally(), (4, 4))
 
     def test_what_came_before_an_error_remains(self):
-        for wrong, reason in ((("shut", "a"), "shut"), (("look", "q", 0), "chest"), (("look", "b", 1), "open"), (("look", "a", 2), "thing")):
+        refused = ((("shut", "a"), "shut"), (("look", "q", 0), "chest"), (("look", "b", 1), "open"), (("look", "a", 2), "thing"))
+        for wrong, reason in refused:
             game = Game(CHAIN, 3)
             self.refuses(InvalidEvent(wrong, reason), game_through, game, RUN[:2] + (wrong,) + RUN[2:])
             self.is_same((list(game), game.tally()), (list(RUN[:2]), (3, 3)))

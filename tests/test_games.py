@@ -376,6 +376,15 @@ class Left(GameCase):
         # It is caught.
         self.refuses_parameter(game.things_now, {"chest": "c"}, "chest", ["a", "b", "c", "d"], "chest", VALUE)
 
+    def test_as_many_fillings_as_the_limits_let(self):
+        # 1,545 fillings of at most three chests, all of them sound, and 729 of any number.
+        hall = (tuple("abcdef"), (4,) * 6, ())
+        game = Game(hall, 3)
+        self.is_same(game.do_all(("look", "a", 3), ("look", "b", 2)), 2)
+        self.is_same((game.left_now, game.advice(), game.things_now("f")), (None, None, (0, 1, 2, 3)))
+        game = Game((tuple("abcdef"), (2,) * 6, ((("f",), ()),)), 6)
+        self.is_same((game.left_now, game.advice(), game.things_now("a")), (1, (None, "f"), ()))
+
     def test_great_halls(self):
         for hall in GREAT + (LONG,):
             for m in (1, 2, 3):
@@ -437,6 +446,14 @@ class Trying(GameCase):
                         self.refuses(InvalidEvent(told, reason), game.do_all, *events[:k], told, *events[k:], keep=keep)
                         stays = (("look", "a", 0), ("shut", "a")) + (events[:k] if keep else ())
                         self.is_same((tuple(game), game.tally()), (stays, (3, 3)))
+
+    def test_without_keep_nothing_stays(self):
+        for k in range(1, 4):
+            game = Game(CHAIN, 2)
+            game.look("a", 0)
+            events = (("shut", "a"), ("look", "b", 0), ("look", "c", 0))[:k] + (("shut", "zz"),)
+            self.refuses(InvalidEvent(("shut", "zz"), "chest"), game.do_all, *events)
+            self.is_same((list(game), game.filling_now, game.tally()), ([("look", "a", 0)], (("a", 0),), (2, 2)))
 
     def test_keep(self):
         game = Game(CHAIN, 2)

@@ -136,6 +136,10 @@ class KeptBy(Case):
         bags = tree_of_bags(web_of(hall))
         for m in (2, 3):
             self.is_glued(hall, bags, family(hall, m))
+        free = (tuple("abcdef"), (4,) * 6, ())
+        bags = ((tuple("abc"), tuple("cde"), tuple("def")), ((0, 1), (1, 2)))
+        self.is_same(kept_by(free, bags, family(free, 3)), tuple([(chest, 0) for chest in "abcdef"]))
+        self.is_same(moves_by(free, bags, 0), 6)
         many = 0
         for hall in GREAT:
             bags = tree_of_bags(web_of(hall))

@@ -129,7 +129,8 @@ class Making(Case):
 class Barring(Case):
     def test_behind_the_other_reasons(self):
         game = Sure(PAIR, 1)
-        self.is_same([game.barred(("look", "a", 1)), game.barred(("look", "a", 2)), game.barred(("look", "c", 1))], ["lost", "thing", "chest"])
+        for event, reason in ((("look", "a", 1), "lost"), (("look", "a", 2), "thing"), (("look", "c", 1), "chest")):
+            self.is_same(game.barred(event), reason)
         game.look("a", 0)
         self.is_same([game.barred(("look", "a", 1)), game.barred(("look", "b", 0))], ["open", "many"])
         for value in NO_EVENTS:

@@ -97,7 +97,7 @@ class Things(Case):
         wrong = [value for value in ANY if not (type(value) is int and value in (0, 1))] + [2, (0, 0), [0], -1]
         self.refuses_parameter(setting_of, good, "thing", wrong, "thing", VALUE)
         good = {"web": RING, "odds": ("a",), "chest": "b", "bits": (1, 1)}
-        wrong = ANY + ((0, 1), (1, 0), (1, True), (True, True), (False, 0), (1, 1, 1), (1,), [1, 1], (2, 0), (-1, 1), ("1", "1"), (1, None))
+        wrong = ANY + ((0, 1), (1, 0), (1, True), (True, True), (False, 0), (1, 1, 1), (1,), [1, 1], (2, 0), (-1, 1), ("1", "1"))
         self.refuses_parameter(thing_of, good, "bits", wrong, "bits")
 
 

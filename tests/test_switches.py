@@ -168,7 +168,8 @@ class Changing(SwitchesCase):
         self.refuses_parameter(Switches(WAY, ("a",)).moved, {"way": ("a", "b")}, "way", NO_WAYS, "way")
 
     def test_families(self):
-        for web, odd, m, lots in ((RING, "a", 1, ALONE), (RING, "c", 2, ALONE), (WAY, "b", 1, (("a",), ("b",))), (TWO, "y", 1, (("y",), ("z",)))):
+        told = ((RING, "a", 1, ALONE), (RING, "c", 2, ALONE), (WAY, "b", 1, (("a",), ("b",))), (TWO, "y", 1, (("y",), ("z",))))
+        for web, odd, m, lots in told:
             one = Switches(web, (odd,))
             self.is_same(one.kept_for(m, lots), slow_switched_family(web, odd, m, lots))
             self.is_same(one.kept_for(lots=lots, m=m), switched_family(web, odd, m, lots))
