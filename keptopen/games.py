@@ -187,11 +187,9 @@ def filling_after(events):
     """The filling of the chests that stand open after these events."""
     held = {}
     for event in events:
-        if is_look(event):
-            held[event[1]] = event[2]
-        else:
-            held.pop(event[1])
-    return tuple(sorted(list(held.items())))
+        # What was in a chest that is shut is forgotten.
+        held[event[1]] = event[2] if is_look(event) else None
+    return tuple(sorted([(chest, thing) for chest, thing in held.items() if thing is not None]))
 
 
 def left_from(hall, m, barring, filling):
